@@ -1,0 +1,1 @@
+"""Kithbase: a local-first database for a group."""

@@ -1,0 +1,69 @@
+"""The names and arguments of the interface, and where they are defined."""
+
+import importlib
+import inspect
+import unittest
+
+FUNCTIONS = {
+    "naming": {"format_name": ["name"], "parse_name": ["text"], "parse_spot": ["text"], "parse_mark": ["text"]},
+    "changes": {"in_past": ["name", "change"], "order_key": ["change"], "in_order": ["changes"]},
+    "store": {"is_whole": ["store"]},
+    "rights": {
+        "capability_info": ["store", "capability"], "is_above": ["store", "first", "second"],
+        "is_fit": ["store", "change"], "revoked_by": ["store", "change"], "verdicts": ["store"],
+        "is_held": ["store", "allowed", "capability"], "may_read": ["store", "allowed", "member", "space"],
+        "counts_in": ["store", "allowed", "change", "space"], "allowed_seals": ["store", "allowed"]},
+    "undo": {
+        "knows": ["store", "spot", "other"], "is_closed": ["store", "allowed", "spot", "name"],
+        "undone_by": ["store", "allowed", "change", "space"], "taking_effect": ["store", "allowed", "space"],
+        "effective_acts": ["store", "allowed", "space"]},
+    "cells": {"shown_writes": ["store", "allowed", "writes"], "has_kind": ["holds", "value"]},
+    "letters": {
+        "characters": ["store", "allowed", "space", "row", "column"],
+        "text_of": ["store", "allowed", "space", "row", "column"]},
+}
+CLASSES = {
+    "changes": {"Change": (["author", "number", "heard", "capability", "publics", "parts"], {
+        "name": [], "header": [], "with_parts": ["parts"]})},
+    "store": {
+        "Kept": (["acts", "sums", "texts"], {"data": []}),
+        "Store": (["members"], {"count": ["member"], "counts": [], "find": ["name"], "has": ["name"], "all_changes": [],
+                                "add": ["change"], "copy": [], "data": []})},
+    "sheets": {"Sheet": (["store", "allowed", "space"], {
+        "act_of": ["spot"], "holds": ["column"], "table_of": ["spot"], "writes": ["row", "column"],
+        "shown": ["row", "column"], "counted": ["row", "column"], "entry": ["row", "column"]})},
+}
+
+
+def module(name):
+    return importlib.import_module("kithbase." + name)
+
+
+class Interface(unittest.TestCase):
+    def check(self, found, arguments, skipped=0):
+        self.assertEqual(list(inspect.signature(found).parameters)[skipped:], arguments, found)
+
+    def test_functions(self):
+        for name in FUNCTIONS:
+            for word, arguments in FUNCTIONS[name].items():
+                found = getattr(module(name), word)
+                self.assertTrue(inspect.isfunction(found), word)
+                self.assertEqual(found.__module__, "kithbase." + name, word)
+                self.check(found, arguments)
+
+    def test_classes(self):
+        for name in CLASSES:
+            for word, (arguments, methods) in CLASSES[name].items():
+                found = getattr(module(name), word)
+                self.assertEqual(found.__module__, "kithbase." + name, word)
+                self.check(found, arguments)
+                for method in methods:
+                    self.assertIn(method, vars(found))
+                    self.check(vars(found)[method], methods[method], skipped=1)
+
+    def test_constants(self):
+        self.assertEqual(module("store").SPACES, 4)
+
+
+if __name__ == "__main__":
+    unittest.main()
