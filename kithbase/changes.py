@@ -8,7 +8,7 @@ class Change:
         self.author = author
         self.number = number
         self.heard = frozen(heard)
-        self.capability = frozen(capability)
+        self.capability = capability
         self.publics = frozen(publics)
         self.parts = frozen(parts)
 

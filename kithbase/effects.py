@@ -2,7 +2,7 @@
 
 from kithbase.cells import has_kind
 from kithbase.making import holds_writes, is_known
-from kithbase.undo import is_closed_by, knows
+from kithbase.undo import is_closed_for, knows
 
 
 def is_cell(ground, row, column):
@@ -40,16 +40,13 @@ def _may_refer(ground, seals, spot, table, target):
     """True if the act with the spot may refer to the target as a row of the table."""
     if target not in ground.rows or ground.rows[target] != table or not knows(ground.store, spot, target):
         return False
-    drops = ground.drops.get(target, [])
-    return not any(is_closed_by(ground.store, seals, spot[:2], drop[:2]) for drop in drops)
+    change = ground.store.find(spot[:2])
+    return not any(is_closed_for(ground.store, seals, change, drop[:2]) for drop in ground.drops.get(target, []))
 
 
 def sums_by_cell(ground, kept):
     """Returns a dict with the sum of each counter to which something was added, or of which a sum is kept."""
-    sums = {}
-    for (row, column), total in kept:
-        if is_cell(ground, row, column):
-            sums[(row, column)] = total
+    sums = {cell: total for cell, total in kept}
     for spot, act in ground.acts:
         if act[0] == "add" and _is_for_cell(ground, spot, act[1], act[2]):
             cell = (act[1], act[2])

@@ -1,7 +1,7 @@
 """The characters of cells that several members edit."""
 
 from kithbase.rights import allowed_seals, heard_the_cut, is_sealed_in
-from kithbase.undo import effective_acts, is_closed_by, knows, spots_and_acts, taking_effect
+from kithbase.undo import effective_acts, is_closed_for, knows, spots_and_acts, taking_effect
 
 
 def characters(store, allowed, space, row, column):
@@ -49,7 +49,7 @@ def _removes_by_mark(store, acts):
 def _kept_texts(store, space):
     """Returns a dict with the list of the kept pairs (mark, character) of each cell."""
     kept = store.kept[space]
-    return {} if kept is None else {cell: list(pairs) for cell, pairs in kept.texts}
+    return {} if kept is None else {cell: pairs for cell, pairs in kept.texts}
 
 
 def lettered_cells(lettering):
@@ -113,12 +113,13 @@ def _may_insert(lettering, following, spot, act):
 
 def _is_dead(lettering, spot, mark):
     """True if the character with the mark is dead for the act with the spot."""
-    if not is_closed_by(lettering.store, lettering.seals, spot[:2], mark[:2]):
+    store, seals = lettering.store, lettering.seals
+    change = store.find(spot[:2])
+    if not is_closed_for(store, seals, change, mark[:2]):
         return False
     if not lettering.takes.get(mark[:2], True):
         return True
-    removes = lettering.removes.get(mark, [])
-    return any(is_closed_by(lettering.store, lettering.seals, spot[:2], remove[:2]) for remove in removes)
+    return any(is_closed_for(store, seals, change, remove[:2]) for remove in lettering.removes.get(mark, []))
 
 
 def _shows(lettering, mark):

@@ -17,20 +17,14 @@ def knows(store, spot, other):
 
 def is_closed(store, allowed, spot, name):
     """True if the change called `name` is closed for the act with the spot `spot`."""
-    return is_closed_by(store, allowed_seals(store, allowed), spot[:2], name)
+    return is_closed_for(store, allowed_seals(store, allowed), store.find(spot[:2]), name)
 
 
-def is_closed_by(store, seals, author_name, name):
-    """True if the change called `name` is closed for the acts of the change called `author_name`.
-
-    The list `seals` has all allowed changes with a seal, so that they need not be looked for each time.
-    """
+def is_closed_for(store, seals, change, name):
+    """True if the change called `name` is closed for the acts of `change`, where `seals` are the allowed seals."""
     if is_cut_away(store, name):
         return True
-    change = store.find(author_name)
-    if change is None:
-        return False
-    return any(_closes(seal, change, name) for seal in seals)
+    return change is not None and any(_closes(seal, change, name) for seal in seals)
 
 
 def _closes(seal, change, name):
@@ -48,7 +42,7 @@ def _undone_past(store, seals, change, space):
     names = []
     for spot, act in spots_and_acts(change, space):
         if act[0] == "undo" and act[1] not in names and in_past(act[1], change):
-            if not is_closed_by(store, seals, change.name(), act[1]):
+            if not is_closed_for(store, seals, change, act[1]):
                 names.append(act[1])
     return names
 

@@ -69,6 +69,16 @@ class Info(unittest.TestCase):
         self.assertEqual(capability_info(store, (1, 2, 0)), (KEPT, 2, MIXED))
         self.assertEqual(capability_info(store, (2, 1, 0)), ((1, 2, 0), 1, NOTHING))
 
+    def test_what_is_kept_is_there_whatever_its_parent(self):
+        store = cut_store()
+        store.capabilities.pop(0)
+        make(store, 2, capability=(1, 1, 0), publics=[grant(1, NOTHING)])
+        self.assertEqual(capability_info(store, (1, 1, 0)), (KEPT, 2, MIXED))
+        self.assertEqual(capability_info(store, (2, 1, 0)), ((1, 1, 0), 1, NOTHING))
+        self.assertIsNone(capability_info(store, KEPT))
+        self.assertIs(is_above(store, None, (2, 1, 0)), True)
+        self.assertIs(is_above(store, KEPT, (2, 1, 0)), False)
+
     def test_chains_that_reach_neither(self):
         store = cut_store()
         make(store, 1, capability=(0, 1, 5), publics=[grant(2)])
@@ -276,7 +286,8 @@ class Revocations(unittest.TestCase):
         self.assertEqual(self.revoked(store, 0, publics=[revoke((1, 1, 0)), revoke(KEPT)]), [(1, 1, 0), KEPT])
         self.assertEqual(self.revoked(store, 1, capability=KEPT, publics=[revoke(KEPT), revoke((1, 1, 0))]), [(1, 1, 0)])
         # It is kept, so it counts as heard of whatever the change had heard.
-        self.assertEqual(self.revoked(store, 0, heard=(1, 0, 0), publics=[revoke(KEPT)]), [KEPT])
+        found = self.revoked(store, 0, heard=(1, 0, 0), publics=[revoke((1, 1, 0)), revoke(KEPT)])
+        self.assertEqual(found, [(1, 1, 0), KEPT])
 
     def test_it_need_not_be_allowed_or_fit(self):
         store = tree()
@@ -427,6 +438,12 @@ class Counting(unittest.TestCase):
     def test_kept_capabilities(self):
         store = cut_store()
         self.assertEqual(self.counting(store, make(store, 2, capability=(1, 1, 0))), [True, True, False, False])
+
+    def test_changes_that_are_not_in_the_store(self):
+        store = group(2)
+        change = say(store, 1)
+        store.changes[1].pop()
+        self.assertEqual(self.counting(store, change), [False] * 4)
 
     def test_a_capability_that_was_revoked_later(self):
         store = group(2)

@@ -56,6 +56,13 @@ class WhatIsKept(unittest.TestCase):
         kept = Kept((TABLE,), (SUM,), ((CELL, (((0, 1, 3, 0), "a"),)),))
         self.assertEqual((kept.acts, kept.sums, kept.texts), ([TABLE], [SUM], [(CELL, [((0, 1, 3, 0), "a")])]))
 
+    def test_pairs_that_can_be_modified_are_not_shared(self):
+        act, total, cell, mark = list(TABLE), list(SUM), list(CELL), [(0, 1, 3, 0), "a"]
+        kept = Kept([act], [total], [(cell, [mark])])
+        for pair in [act, total, cell, mark]:
+            pair.clear()
+        self.assertEqual(kept.data(), ((TABLE,), (SUM,), ((CELL, (((0, 1, 3, 0), "a"),)),)))
+
 
 class Stores(unittest.TestCase):
     def test_an_empty_store(self):
@@ -174,6 +181,13 @@ class DataAndCopies(unittest.TestCase):
         before = other.data()
         spoil(store)
         self.assertEqual(other.data(), before)
+
+    def test_an_entry_that_can_be_modified_is_not_shared(self):
+        store = cut_store()
+        store.capabilities = [list(CAPABILITY)]
+        other = store.copy()
+        store.capabilities[0].clear()
+        self.assertEqual(other.data(), cut_store().data())
 
     def test_data_does_not_change_later(self):
         store = cut_store()
