@@ -21,6 +21,10 @@ FUNCTIONS = {
     "letters": {
         "characters": ["store", "allowed", "space", "row", "column"],
         "text_of": ["store", "allowed", "space", "row", "column"]},
+    "yielding": {"reasons": ["sheet"], "showing": ["sheet", "table"], "conflicts": ["sheet"]},
+    "sources": {"sources": ["store", "allowed", "space"], "all_sources": ["store"]},
+    "tokens": {"tokenize": ["text"], "write_token": ["token"]},
+    "parser": {"parse": ["text"]},
 }
 CLASSES = {
     "changes": {"Change": (["author", "number", "heard", "capability", "publics", "parts"], {
@@ -32,6 +36,7 @@ CLASSES = {
     "sheets": {"Sheet": (["store", "allowed", "space"], {
         "act_of": ["spot"], "holds": ["column"], "table_of": ["spot"], "writes": ["row", "column"],
         "shown": ["row", "column"], "counted": ["row", "column"], "entry": ["row", "column"]})},
+    "sources": {"Source": (["name", "columns", "kinds", "rows"], {})},
 }
 
 
@@ -63,6 +68,7 @@ class Interface(unittest.TestCase):
 
     def test_constants(self):
         self.assertEqual(module("store").SPACES, 4)
+        self.assertIsInstance(module("tokens").KEYWORDS, tuple)
 
 
 if __name__ == "__main__":
