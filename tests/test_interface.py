@@ -25,6 +25,18 @@ FUNCTIONS = {
     "sources": {"sources": ["store", "allowed", "space"], "all_sources": ["store"]},
     "tokens": {"tokenize": ["text"], "write_token": ["token"]},
     "parser": {"parse": ["text"]},
+    "printer": {"write_question": ["tree"]},
+    "kinds": {
+        "kind_of": ["value"], "fits": ["first", "second"], "common": ["first", "second"],
+        "check": ["tree", "sources", "parameters"], "check_query": ["query", "sources", "parameters"]},
+    "values": {
+        "value_key": ["value"], "row_key": ["row"], "same": ["first", "second"],
+        "arithmetic": ["operator", "first", "second"], "compare": ["operator", "first", "second"], "negation": ["value"],
+        "conjunction": ["first", "second"], "disjunction": ["first", "second"]},
+    "meaning": {"query_rows": ["query", "sources", "parameters"], "answer": ["tree", "sources", "parameters"]},
+    "live": {
+        "came": ["old", "new"], "went": ["old", "new"], "change_of": ["old", "new"],
+        "join_change": ["old_left", "new_left", "old_right", "new_right", "condition"]},
 }
 CLASSES = {
     "changes": {"Change": (["author", "number", "heard", "capability", "publics", "parts"], {
@@ -37,6 +49,7 @@ CLASSES = {
         "act_of": ["spot"], "holds": ["column"], "table_of": ["spot"], "writes": ["row", "column"],
         "shown": ["row", "column"], "counted": ["row", "column"], "entry": ["row", "column"]})},
     "sources": {"Source": (["name", "columns", "kinds", "rows"], {})},
+    "live": {"Live": (["tree", "parameters"], {"turn": ["sources"]})},
 }
 
 
