@@ -68,7 +68,8 @@ def compared(operator, first, second):
     if first is None or second is None:
         return None
     less, more = before(first, second), before(second, first)
-    return {"=": not less and not more, "<>": less or more, "<": less, "<=": not more, ">": more, ">=": not less}[operator]
+    return {"=": not less and not more, "<>": less or more, "<": less, "<=": not more, ">": more,
+            ">=": not less}[operator]
 
 
 def opposite(value):
@@ -350,7 +351,8 @@ class Maker:
         told = self.maybe(0.1)
         if self.maybe(0.12):
             return ("case", self.expression("boolean", frames, room - 1, aggregates),
-                    self.expression(kind, frames, room - 1, aggregates), self.expression(kind, frames, room - 1, aggregates))
+                    self.expression(kind, frames, room - 1, aggregates),
+                    self.expression(kind, frames, room - 1, aggregates))
         if self.maybe(0.15):
             return self.scalar(kind, frames, room)
         if kind == "integer":
@@ -414,7 +416,8 @@ class Maker:
             "integer": (3,), "text": (4,), "boolean": (1, 2)}[kind]]
         if numbers and self.maybe(0.3):
             return ("parameter", self.chance.choice(numbers) + 1)
-        return ("literal", self.chance.choice({"integer": (0, 1, 2, 7), "text": ("", "x", "y"), "boolean": (True, False)}[kind]))
+        return ("literal",
+                self.chance.choice({"integer": (0, 1, 2, 7), "text": ("", "x", "y"), "boolean": (True, False)}[kind]))
 
 
 def some_sources(chance):

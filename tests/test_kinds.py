@@ -47,7 +47,8 @@ class Checking(unittest.TestCase):
 
 class Kinds(unittest.TestCase):
     def test_kind_of(self):
-        for value, kind in ((None, "null"), (True, "boolean"), (False, "boolean"), (0, "integer"), (-10 ** 40, "integer"),
+        for value, kind in ((None, "null"), (True, "boolean"), (False, "boolean"), (0, "integer"),
+                            (-10 ** 40, "integer"),
                             ("", "text"), ("a", "text")):
             self.assertEqual(kind_of(value), kind)
 
@@ -64,7 +65,8 @@ class Sources(Checking):
         kinds = [("id", "text"), ("n", "integer"), ("w", "text"), ("b", "boolean")]
         self.assertEqual(self.columns("select * from t"), kinds)
         self.assertEqual(self.columns("select * from t x"), kinds)
-        self.assertEqual(self.columns("select x.n, b, x.b from t x"), [("n", "integer"), ("b", "boolean"), ("b", "boolean")])
+        self.assertEqual(self.columns("select x.n, b, x.b from t x"),
+                         [("n", "integer"), ("b", "boolean"), ("b", "boolean")])
 
     def test_an_unknown_table(self):
         self.refused(errors.UnknownTable, "select 1 from x", "x")
@@ -93,7 +95,8 @@ class Sources(Checking):
     def test_the_first_such_source_of_the_left_side(self):
         left = ("join", ("table", "t", "a"), ("table", "t", "b"), ("literal", True), False)
         right = ("join", ("table", "u", "b"), ("table", "u", "a"), ("literal", True), False)
-        tree = ("select", False, ((("literal", 1), None),), ("join", left, right, ("literal", True), False), None, None, None)
+        tree = ("select", False, ((("literal", 1), None),), ("join", left, right, ("literal", True), False), None, None,
+                None)
         with self.assertRaises(errors.DuplicateSource) as caught:
             check_query(tree, some_sources(), [])
         self.assertEqual(caught.exception.name, "a")
@@ -133,7 +136,8 @@ class Sources(Checking):
         self.columns("select (select max(q.x) from v join (select t.n as x) q on true) from t")
         # The select in whose `from` it stands is not seen either, but the one around that is.
         self.refused(errors.UnknownColumn, "select exists (select 1 from u join (select u.m) q on true) from t", "u.m")
-        self.assertEqual(self.columns("select exists (select 1 from u join (select n) q on true) from t"), [("", "boolean")])
+        self.assertEqual(self.columns("select exists (select 1 from u join (select n) q on true) from t"),
+                         [("", "boolean")])
 
     def test_the_columns_of_a_query(self):
         self.assertEqual(self.columns("select * from (select n as x, w, b, n + 1 from t) q"),
@@ -168,7 +172,8 @@ class Columns(Checking):
         self.refused(errors.KindMismatch, "select n in (select n from u) from t")
         self.columns("select n in (select t.n from u) from t")
         self.refused(errors.AmbiguousColumn, "select exists (select id from t join u on true) from v", "id")
-        self.refused(errors.AmbiguousColumn, "select exists (select 1 from v where id is null) from t join u on true", "id")
+        self.refused(errors.AmbiguousColumn, "select exists (select 1 from v where id is null) from t join u on true",
+                     "id")
         self.columns("select exists (select id from v join t on true) from t join u on true")
 
     def test_a_source_that_has_no_such_column(self):
@@ -253,13 +258,16 @@ class Operators(Checking):
         self.mismatch("n not in (select w from t)")
 
     def test_exists(self):
-        for text in ("select 1, 2", "select * from t", "select * from nothing", "select 1 union select 2", "select null"):
+        for text in ("select 1, 2", "select * from t", "select * from nothing", "select 1 union select 2",
+                     "select null"):
             self.assertEqual(self.kind(f"exists ({text})"), "boolean")
 
     def test_scalar(self):
         for text, kind in (("count(*)", "integer"), ("max(n)", "integer"), ("min(w)", "text"), ("max(b)", "boolean"),
-                           ("max(null)", "null"), ("1 + count(n)", "integer"), ("case when count(*) = 1 then 'a' else 'b' end", "text"),
-                           ("count(*) in (1, 2)", "boolean"), ("1 in (0, count(*))", "boolean"), ("not count(*) is null", "boolean"),
+                           ("max(null)", "null"), ("1 + count(n)", "integer"),
+                           ("case when count(*) = 1 then 'a' else 'b' end", "text"),
+                           ("count(*) in (1, 2)", "boolean"), ("1 in (0, count(*))", "boolean"),
+                           ("not count(*) is null", "boolean"),
                            ("- sum(n)", "integer"), ("count(*) in (select 1)", "boolean")):
             self.assertEqual(self.kind(f"(select {text} from t)"), kind)
         self.assertEqual(self.kind("(select distinct count(*) where false)"), "integer")
@@ -272,7 +280,8 @@ class Operators(Checking):
     def test_scalar_without_one_row_for_sure(self):
         for text in ("select 1", "select n from t", "select * from v", "select count(*) union select count(*)",
                      "select count(*) from t group by n", "select count(*) from t having true", "select 1 having true",
-                     "select (select count(*) from t)", "select exists (select count(*))", "select 1 in (select count(*))",
+                     "select (select count(*) from t)", "select exists (select count(*))",
+                     "select 1 in (select count(*))",
                      "select 1 where exists (select max(n) from t)", "select n from (select count(*) as n) q"):
             self.refused(errors.RowCount, f"select ({text})")
 
@@ -388,8 +397,10 @@ class Aggregates(Checking):
     def test_where_they_cannot_stand(self):
         for text in ("count(*)", "count(n)", "sum(n)", "min(n)", "max(n)"):
             for place in (f"select 1 from t where {text} = 1", f"select 1 from t join v on {text} = 1",
-                          f"select 1 from t group by {text}", f"select sum({text}) from t", f"select count(1 + {text}) from t",
-                          f"select max(case when true then 1 else {text} end) from t", f"select 1 from t having sum({text}) = 1",
+                          f"select 1 from t group by {text}", f"select sum({text}) from t",
+                          f"select count(1 + {text}) from t",
+                          f"select max(case when true then 1 else {text} end) from t",
+                          f"select 1 from t having sum({text}) = 1",
                           f"select (select count(*) from v where {text} = 1) from t"):
                 self.refused(errors.AggregateNotAllowed, place)
 
@@ -406,8 +417,10 @@ class Aggregates(Checking):
 
     def test_in_queries_inside(self):
         for text in ("select 1 from t where n in (select max(m) from u)", "select sum((select max(m) from u)) from t",
-                     "select count((select count(*) from u)) from t", "select 1 from t where (select sum(t.n) from u) = 1",
-                     "select 1 from t join u on exists (select count(*))", "select max((select sum(t.n) from u)) from t",
+                     "select count((select count(*) from u)) from t",
+                     "select 1 from t where (select sum(t.n) from u) = 1",
+                     "select 1 from t join u on exists (select count(*))",
+                     "select max((select sum(t.n) from u)) from t",
                      "select 1 from t where exists (select 1 from u having count(*) = 1)"):
             self.columns(text)
         self.refused(errors.GroupingNotAllowed, "select 1 from t group by (select count(*) from u)")
@@ -444,9 +457,11 @@ class Grouping(Checking):
             self.refused(errors.NotGrouped, text, name)
 
     def test_columns_that_are_grouped(self):
-        for text in ("select n + count(*), max(w) from t group by n", "select n from t group by t.n", "select t.n from t group by n",
+        for text in ("select n + count(*), max(w) from t group by n", "select n from t group by t.n",
+                     "select t.n from t group by n",
                      "select x.n from t x group by n having x.n = 1", "select sum(n) from t group by w having min(b)",
-                     "select 1 from t group by n", "select 1 from t having true", "select count(*) from t having max(b)"):
+                     "select 1 from t group by n", "select 1 from t having true",
+                     "select count(*) from t having max(b)"):
             self.columns(text)
 
     def test_the_same_name_in_two_sources(self):
@@ -456,7 +471,8 @@ class Grouping(Checking):
 
     def test_in_queries_inside(self):
         self.refused(errors.NotGrouped, "select count(*), (select max(m) from u where b) from t", "b")
-        self.refused(errors.NotGrouped, "select n from t group by n having exists (select 1 from u where t.w = u.n)", "w")
+        self.refused(errors.NotGrouped, "select n from t group by n having exists (select 1 from u where t.w = u.n)",
+                     "w")
         self.refused(errors.NotGrouped, "select count(*), (select sum(t.n) from u) from t", "n")
         self.refused(errors.NotGrouped, "select count(*), exists (select 1 from (select b) q) from t", "b")
         self.refused(errors.NotGrouped, "select count(*), exists (select 1 from u join v on b) from t", "b")
@@ -521,7 +537,8 @@ class Stars(Checking):
 
 class Answers(Checking):
     def test_names_of_columns(self):
-        for text, name in (("n", "n"), ("t.n", "n"), ("n as x", "x"), ("t.n as id", "id"), ("n + 1", ""), ("(n)", "n"), ("1", ""),
+        for text, name in (("n", "n"), ("t.n", "n"), ("n as x", "x"), ("t.n as id", "id"), ("n + 1", ""), ("(n)", "n"),
+                           ("1", ""),
                            ("- n", ""), ("count(*)", ""), ("count(*) as many", "many"), ("$1", ""), ("max(n)", ""),
                            ("(select max(m) from u)", "")):
             self.assertEqual(self.columns(f"select {text} from t")[0][0], name)
@@ -537,7 +554,8 @@ class Answers(Checking):
             self.refused(errors.KindMismatch, f"select true {word} select 1")
         self.refused(errors.KindMismatch, "(select null union select 1) union select 'a'")
         self.assertEqual(self.columns("select null union select null"), [("", "null")])
-        self.assertEqual(self.columns("select * from t except select * from t where n = 1"), self.columns("select * from t"))
+        self.assertEqual(self.columns("select * from t except select * from t where n = 1"),
+                         self.columns("select * from t"))
 
     def test_keys(self):
         self.columns("select n, n as x, w from t order by 1, 2 desc, 3, x, w desc, n, n")
@@ -591,8 +609,10 @@ class Given(Checking):
         for start, form in expressions:
             self.assertEqual(len(check_query(select(grown(start, form)), some_sources(), [])), 1)
         queries = [lambda query: select(("column", "q", "c"), sources=("subquery", query, "q")),
-                   lambda query: ("set", "union", query, select(one)), lambda query: ("set", "except", select(one), query),
-                   lambda query: select(one, sources=("join", table, ("subquery", query, "q"), ("literal", True), True))]
+                   lambda query: ("set", "union", query, select(one)),
+                   lambda query: ("set", "except", select(one), query),
+                   lambda query: select(one,
+                                        sources=("join", table, ("subquery", query, "q"), ("literal", True), True))]
         for form in queries:
             self.assertEqual(check_query(grown(select(one), form), some_sources(), [])[0][1], "integer")
 

@@ -53,7 +53,8 @@ class Coming(unittest.TestCase):
             self.assertFalse(set(first) & set(second))
 
     def test_rows_of_different_lengths(self):
-        self.assertEqual(self.both([(), (None,), (1, 2)], [(None, None), (), (1,)]), ([(None, None), (1,)], [(None,), (1, 2)]))
+        self.assertEqual(self.both([(), (None,), (1, 2)], [(None, None), (), (1,)]),
+                         ([(None, None), (1,)], [(None,), (1, 2)]))
         self.assertEqual(self.both([(None,)], [()]), ([()], [(None,)]))
         self.assertEqual(self.both([("a", "b")], [("a",), ("b",)]), ([("a",), ("b",)], [("a", "b")]))
 
@@ -156,7 +157,8 @@ class Differences(unittest.TestCase):
         self.assertEqual(change_of([()], [(), ()]), {(): 1})
 
     def test_values(self):
-        self.assertEqual(change_of([(None, True), ("x", False)], [("x", False), (None, False)]), {(None, True): -1, (None, False): 1})
+        self.assertEqual(change_of([(None, True), ("x", False)], [("x", False), (None, False)]),
+                         {(None, True): -1, (None, False): 1})
 
     def test_a_join_where_one_side_changes(self):
         equal = lambda row: row[1] == row[2]

@@ -52,19 +52,23 @@ class Asking(unittest.TestCase):
 
 class Expressions(Asking):
     def test_literals_and_parameters(self):
-        self.alike(self.rows("select 7, 'a', null, true, false, $1, $3", "x", 0, -5), [(7, "a", None, True, False, "x", -5)])
+        self.alike(self.rows("select 7, 'a', null, true, false, $1, $3", "x", 0, -5),
+                   [(7, "a", None, True, False, "x", -5)])
         self.alike(self.rows("select $1, $2, $3, $2", None, True, GREAT - 1), [(None, True, GREAT - 1, True)])
 
     def test_arithmetic(self):
         for text, value in (("7 + 2 * 3", 13), ("7 - 2 - 3", 2), ("- 7 / 2", -3), ("7 / - 2", -3), ("- 7 mod 2", -1),
-                            ("7 mod - 2", 1), ("- (7 / 2)", -3), ("- - 5", 5), ("1 / 0", None), ("1 mod 0", None), ("1 + null", None),
+                            ("7 mod - 2", 1), ("- (7 / 2)", -3), ("- - 5", 5), ("1 / 0", None), ("1 mod 0", None),
+                            ("1 + null", None),
                             ("- null", None), ("'a' || 'b' || ''", "ab"), ("'a' || null", None)):
             self.alike(self.value(text), value)
 
     def test_great_results(self):
         most = GREAT - 1
-        for text, value in (("$1 + 0", most), ("$1 + 1", None), ("$2 - 1", None), ("- $1", -most), ("- $2", most), ("$1 - - 1", None),
-                            ("$1 * 2", None), ("- $3", None), ("$3 - 1", most), ("$3 / 1", None), ("$3", GREAT), ("$3 mod 7", GREAT - GREAT // 7 * 7),
+        for text, value in (("$1 + 0", most), ("$1 + 1", None), ("$2 - 1", None), ("- $1", -most), ("- $2", most),
+                            ("$1 - - 1", None),
+                            ("$1 * 2", None), ("- $3", None), ("$3 - 1", most), ("$3 / 1", None), ("$3", GREAT),
+                            ("$3 mod 7", GREAT - GREAT // 7 * 7),
                             ("($1 + 1) is null", True), ("$3 > $1", True)):
             self.alike(self.value(text, most, -most, GREAT), value)
 
@@ -73,8 +77,10 @@ class Expressions(Asking):
         self.assertIsNone(self.value("$1 || $2", "a" * 1999, "bc"))
 
     def test_comparisons(self):
-        for text, value in (("1 < 2", True), ("'b' < 'a'", False), ("false < true", True), ("1 = 1", True), ("1 <> 1", False),
-                            ("null = null", None), ("null <> 1", None), ("'a' >= null", None), ("true = true", True), ("'10' < '9'", True),
+        for text, value in (("1 < 2", True), ("'b' < 'a'", False), ("false < true", True), ("1 = 1", True),
+                            ("1 <> 1", False),
+                            ("null = null", None), ("null <> 1", None), ("'a' >= null", None), ("true = true", True),
+                            ("'10' < '9'", True),
                             ("1 = 1 = true", True), ("'' <= ' '", True)):
             self.alike(self.value(text), value)
 
@@ -96,18 +102,22 @@ class Expressions(Asking):
         self.alike(self.value("case when true then 1 else 1 / 0 end"), 1)
 
     def test_is_null(self):
-        for text, value in (("null is null", True), ("null is not null", False), ("1 is null", False), ("false is not null", True),
+        for text, value in (("null is null", True), ("null is not null", False), ("1 is null", False),
+                            ("false is not null", True),
                             ("0 is null", False), ("'' is null", False), ("(null = 1) is null", True)):
             self.alike(self.value(text), value)
 
     def test_in_a_list(self):
-        for text, value in (("1 in (1, 2)", True), ("3 in (1, 2)", False), ("3 in (1, null)", None), ("1 in (null, 1)", True),
-                            ("null in (1, 2)", None), ("null in (null)", None), ("true in (false, true)", True), ("'a' in ('A')", False)):
+        for text, value in (("1 in (1, 2)", True), ("3 in (1, 2)", False), ("3 in (1, null)", None),
+                            ("1 in (null, 1)", True),
+                            ("null in (1, 2)", None), ("null in (null)", None), ("true in (false, true)", True),
+                            ("'a' in ('A')", False)):
             self.alike(self.value(text), value)
             self.alike(self.value(text.replace(" in ", " not in ")), None if value is None else not value)
 
     def test_in_a_query(self):
-        for text, value in (("1 in (select m from u)", True), ("3 in (select m from u)", True), ("9 in (select m from u)", None),
+        for text, value in (("1 in (select m from u)", True), ("3 in (select m from u)", True),
+                            ("9 in (select m from u)", None),
                             ("9 in (select m from u where m > 0)", False), ("1 in (select m from u where m > 0)", True),
                             ("null in (select m from u)", None), ("null in (select m from u where m > 0)", None),
                             ("null in (select n from empty)", False), ("1 in (select n from empty)", False),
@@ -118,7 +128,8 @@ class Expressions(Asking):
             self.alike(self.value(text.replace(" in ", " not in ")), None if value is None else not value)
 
     def test_exists(self):
-        for text, value in (("exists (select 1)", True), ("exists (select null)", True), ("exists (select 1 where false)", False),
+        for text, value in (("exists (select 1)", True), ("exists (select null)", True),
+                            ("exists (select 1 where false)", False),
                             ("exists (select * from empty)", False), ("exists (select count(*) from empty)", True),
                             ("not exists (select 1 where null)", True)):
             self.alike(self.value(text), value)
@@ -129,7 +140,8 @@ class Expressions(Asking):
             self.alike(self.value(text), value)
 
     def test_scalar_queries(self):
-        for text, value in (("(select count(*) from t)", 4), ("(select max(n) from t) + 1", 3), ("(select sum(n) from empty)", None),
+        for text, value in (("(select count(*) from t)", 4), ("(select max(n) from t) + 1", 3),
+                            ("(select sum(n) from empty)", None),
                             ("(select count(*) where false)", 0), ("(select distinct min(w) from t)", "x")):
             self.alike(self.value(text), value)
 
@@ -138,7 +150,8 @@ class Around(Asking):
     """Queries that use columns of the selects around them."""
 
     def test_they_are_evaluated_for_each_row(self):
-        self.alike(self.rows("select id, (select count(*) from u where m = n) from t"), [("a", 2), ("b", 0), ("c", 0), ("d", 2)])
+        self.alike(self.rows("select id, (select count(*) from u where m = n) from t"),
+                   [("a", 2), ("b", 0), ("c", 0), ("d", 2)])
         self.alike(self.rows("select id, exists (select 1 from u where m > n) from t"),
                    [("a", True), ("b", True), ("c", False), ("d", True)])
         self.alike(self.rows("select id, n in (select m from u where m < 3 or b is null) from t"),
@@ -149,7 +162,8 @@ class Around(Asking):
         self.assertEqual(self.rows("select t.id, key from t join u on (select count(*) where m = n) = 1"),
                          [("a", "k"), ("a", "l"), ("d", "k"), ("d", "l")])
         self.assertEqual(self.values("select id from t where n = (select min(q.m) from (select m from u where m = n) q)"), ["a", "d"])
-        self.assertEqual(self.rows("select w, count(*) from t group by w having exists (select 1 where w = 'x')"), [("x", 2)])
+        self.assertEqual(self.rows("select w, count(*) from t group by w having exists (select 1 where w = 'x')"),
+                         [("x", 2)])
         self.assertEqual(self.rows("select w, (select count(*) from u where key > w) from t group by w"),
                          [("x", 0), ("y", 0), (None, 0)])
         self.assertEqual(self.values("select sum((select count(*) from u where m = n)) from t"), [4])
@@ -163,8 +177,10 @@ class Around(Asking):
 
     def test_the_innermost_scope_decides(self):
         self.assertEqual(self.values("select count(*) from t where n in (select n from empty)"), [0])
-        self.assertEqual(self.values("select id from t where exists (select 1 from t where n = 2 and id = 'b')"), list("abcd"))
-        self.assertEqual(self.values("select id from t x where exists (select 1 from t where n = 2 and t.n = x.n)"), ["b"])
+        self.assertEqual(self.values("select id from t where exists (select 1 from t where n = 2 and id = 'b')"),
+                         list("abcd"))
+        self.assertEqual(self.values("select id from t x where exists (select 1 from t where n = 2 and t.n = x.n)"),
+                         ["b"])
 
     def test_a_query_in_from(self):
         self.assertEqual(self.rows("select id, (select max(q.m) from (select m from u where m <= n) q) from t"),
@@ -175,7 +191,8 @@ class Around(Asking):
     def test_set_operators(self):
         self.assertEqual(self.rows("select id, exists (select n except select m from u) from t"),
                          [("a", False), ("b", True), ("c", False), ("d", False)])
-        self.assertEqual(self.values("select id from t where 'k' in (select key from u where m = n union select w)"), ["a", "d"])
+        self.assertEqual(self.values("select id from t where 'k' in (select key from u where m = n union select w)"),
+                         ["a", "d"])
 
     def test_values_that_are_equal_in_python(self):
         # What is remembered for 1 is not taken for True.
@@ -210,13 +227,16 @@ class Sources(Asking):
                          [("a", "k"), ("a", "l"), ("b", None), ("c", None), ("d", "k"), ("d", "l")])
         self.assertEqual(self.rows("select * from u left join empty on true"), [row + (None, None) for row in U])
         self.assertEqual(self.rows("select * from empty left join u on true"), [])
-        self.assertEqual(self.rows("select id, key from t left join u on n = m where key is null"), [("b", None), ("c", None)])
-        self.assertEqual(self.rows("select id, key from t left join u on n = m and n = 2"), [(row[0], None) for row in T])
+        self.assertEqual(self.rows("select id, key from t left join u on n = m where key is null"),
+                         [("b", None), ("c", None)])
+        self.assertEqual(self.rows("select id, key from t left join u on n = m and n = 2"),
+                         [(row[0], None) for row in T])
 
     def test_conditions_that_are_none(self):
         self.assertEqual(self.rows("select * from t join u on null"), [])
         self.assertEqual(self.rows("select id, key from t left join u on null"), [(row[0], None) for row in T])
-        self.assertEqual(self.rows("select id, key from t join u on n = m or null"), self.rows("select id, key from t join u on n = m"))
+        self.assertEqual(self.rows("select id, key from t join u on n = m or null"),
+                         self.rows("select id, key from t join u on n = m"))
         self.assertEqual(self.rows("select x.key, y.key from u x join u y on x.m = y.m and x.key = 'n'"), [])
 
     def test_joins_one_behind_the_other(self):
@@ -226,9 +246,12 @@ class Sources(Asking):
 
     def test_equations_of_many_forms(self):
         plain = self.rows("select id, key from t join u on n = m")
-        for text in ("m = n", "n + 0 = m", "m + n = n + n", "n - m = 0", "not n <> m", "n = m and true", "true and (m = n and n = m)",
-                     "n = m = true", "n in (m)", "m in (select n)", "(select max(n)) = (select max(m))", "n * 2 = m * 2",
-                     "n = m and 1 = 1", "1 = 1 and m = n", "n = m and key <> id", "0 = n - m", "case when n = m then true else null end"):
+        for text in ("m = n", "n + 0 = m", "m + n = n + n", "n - m = 0", "not n <> m", "n = m and true",
+                     "true and (m = n and n = m)",
+                     "n = m = true", "n in (m)", "m in (select n)", "(select max(n)) = (select max(m))",
+                     "n * 2 = m * 2",
+                     "n = m and 1 = 1", "1 = 1 and m = n", "n = m and key <> id", "0 = n - m",
+                     "case when n = m then true else null end"):
             self.assertEqual(self.rows(f"select id, key from t join u on {text}"), plain, text)
 
     def test_equations_with_the_scopes_around(self):
@@ -241,16 +264,20 @@ class Sources(Asking):
 
     def test_equations_that_use_both_sides(self):
         plain = self.rows("select id, key from t join u on n = m")
-        for text in ("n + n + m = m + m + n", "m + n = n + n", "n + m = n + n", "m + m = n + m", "m + m = m + n", "n - m = m - n"):
+        for text in ("n + n + m = m + m + n", "m + n = n + n", "n + m = n + n", "m + m = n + m", "m + m = m + n",
+                     "n - m = m - n"):
             self.assertEqual(self.rows(f"select id, key from t join u on {text}"), plain, text)
         # What is used of the scopes around does not belong to a side, wherever it stands there.
         around = "select (select count(*) from t join u on {}) from t x join u y on x.id = 'a' and y.key = 'm'"
-        for text, many in (("m + x.n = n + y.m", 2), ("n + y.m = m + x.n", 2), ("n + x.n = m + y.m", 0), ("m + y.m = n + x.n", 0),
-                           ("n * y.m = m * 3", 4), ("x.n = y.m", 0), ("x.n = n", 8), ("m = y.m", 4), ("x.n + 2 = y.m", 16)):
+        for text, many in (("m + x.n = n + y.m", 2), ("n + y.m = m + x.n", 2), ("n + x.n = m + y.m", 0),
+                           ("m + y.m = n + x.n", 0),
+                           ("n * y.m = m * 3", 4), ("x.n = y.m", 0), ("x.n = n", 8), ("m = y.m", 4),
+                           ("x.n + 2 = y.m", 16)):
             self.assertEqual(self.values(around.format(text)), [many], text)
 
     def test_true_does_not_join_1(self):
-        more = {"v": (["x"], ["null"], [(1,), (True,), (0,), (False,), (None,)]), "z": (["y"], ["null"], [(True,), (0,), (None,)])}
+        more = {"v": (["x"], ["null"], [(1,), (True,), (0,), (False,), (None,)]),
+                "z": (["y"], ["null"], [(True,), (0,), (None,)])}
         self.alike(self.rows("select * from v join z on x = y", **more), [(True, True), (0, 0)])
 
     def test_without_from(self):
@@ -278,12 +305,14 @@ class Groups(Asking):
         self.assertEqual(self.values("select count(*) from t group by n"), [2, 1, 1])
 
     def test_values_that_are_equal_in_python(self):
-        more = {"v": (["x"], ["null"], [(False,), (0,), (None,), (True,), (1,), (0,), (False,), (None,), ("",), ("0",)])}
+        more = {"v": (["x"], ["null"],
+                      [(False,), (0,), (None,), (True,), (1,), (0,), (False,), (None,), ("",), ("0",)])}
         self.alike(self.rows("select x, count(*) from v group by x", **more),
                    [(False, 2), (0, 2), (None, 2), (True, 1), (1, 1), ("", 1), ("0", 1)])
 
     def test_no_rows(self):
-        self.assertEqual(self.rows("select count(*), count(n), sum(n), min(n), max(id) from empty"), [(0, 0, None, None, None)])
+        self.assertEqual(self.rows("select count(*), count(n), sum(n), min(n), max(id) from empty"),
+                         [(0, 0, None, None, None)])
         self.assertEqual(self.rows("select count(*) from t where false"), [(0,)])
         self.assertEqual(self.rows("select count(*) from empty group by n"), [])
         self.assertEqual(self.rows("select 1 from empty having true"), [(1,)])
@@ -302,12 +331,14 @@ class Groups(Asking):
                    [(4, 3, 4, 1, 2, "x", "y", False, True)])
         self.alike(self.rows("select sum(n), count(n), min(n), max(n) from t where n is null"), [(None, 0, None, None)])
         self.alike(self.rows("select sum(null), min(null), count(null), count(1) from t"), [(None, None, 0, 4)])
-        self.alike(self.rows("select sum(n * 2) + count(*), - max(n), sum(case when b then 1 else 0 end) from t"), [(12, -2, 2)])
+        self.alike(self.rows("select sum(n * 2) + count(*), - max(n), sum(case when b then 1 else 0 end) from t"),
+                   [(12, -2, 2)])
         self.alike(self.rows("select count(*), sum(1) from t join u on true"), [(16, 16)])
 
     def test_great_sums(self):
         most = GREAT - 1
-        for values, total in (((most,), most), ((most, 1), None), ((most, 1, -1), most), ((-most,), -most), ((-most, -1), None),
+        for values, total in (((most,), most), ((most, 1), None), ((most, 1, -1), most), ((-most,), -most),
+                              ((-most, -1), None),
                               ((GREAT,), None), ((GREAT, -1), most), ((None, most), most)):
             more = {"v": (["x"], ["integer"], [(value,) for value in values])}
             self.alike(self.values("select sum(x) from v", **more), [total])
@@ -329,7 +360,8 @@ class Groups(Asking):
 
 
 class Sets(Asking):
-    MORE = {"v": (["x"], ["null"], [(1,), (2,), (1,), (None,), (True,)]), "z": (["y"], ["null"], [(None,), (1,), (3,), (3,), (1,)])}
+    MORE = {"v": (["x"], ["null"], [(1,), (2,), (1,), (None,), (True,)]),
+            "z": (["y"], ["null"], [(None,), (1,), (3,), (3,), (1,)])}
 
     def both(self, word):
         return self.values(f"select * from v {word} select * from z", **self.MORE)
@@ -359,9 +391,11 @@ class Answers(Asking):
         self.assertEqual(self.told("select * from empty"), (["id", "n"], []))
 
     def test_without_keys_all_columns_sort(self):
-        self.alike(self.told("select n, w, b from t")[1], [(None, "x", None), (1, None, True), (1, "x", True), (2, "y", False)])
+        self.alike(self.told("select n, w, b from t")[1],
+                   [(None, "x", None), (1, None, True), (1, "x", True), (2, "y", False)])
         more = {"v": (["x"], ["null"], [("a",), (2,), (True,), (None,), (-1,), ("",), (False,), (10,), ("B",)])}
-        self.alike(self.told("select x from v", **more)[1], [(value,) for value in (None, False, True, -1, 2, 10, "", "B", "a")])
+        self.alike(self.told("select x from v", **more)[1],
+                   [(value,) for value in (None, False, True, -1, 2, 10, "", "B", "a")])
         self.alike(self.told("select x from v order by x desc", **more)[1],
                    [(value,) for value in ("a", "B", "", 10, 2, -1, True, False, None)])
 
@@ -385,7 +419,8 @@ class Answers(Asking):
 
     def test_the_order_of_the_rows_of_sources_does_not_matter(self):
         chance = random.Random(77)
-        for text in ("select * from t", "select w, count(*) from t group by w order by 2", "select id from t order by 1 desc limit 2",
+        for text in ("select * from t", "select w, count(*) from t group by w order by 2",
+                     "select id from t order by 1 desc limit 2",
                      "select id, key from t join u on n = m", "select w from t union select key from u"):
             expected = self.told(text)
             for turn in range(10):
@@ -418,7 +453,8 @@ class Given(Asking):
         self.assertEqual((parameters, list(sources)), (["z", None], ["t", "u", "empty"]))
 
     def test_what_is_returned_is_not_shared(self):
-        for text in ("select * from t", "select * from (select * from t) q", "select * from t union all select * from t",
+        for text in ("select * from t", "select * from (select * from t) q",
+                     "select * from t union all select * from t",
                      "select id from t limit 3", "select 1"):
             tree, sources = parse(text), tables()
             before = answer(tree, sources, [])
@@ -460,8 +496,10 @@ class Random(unittest.TestCase):
 class Time(unittest.TestCase):
     def setUp(self):
         self.sources = {
-            "t": Source("t", ["id", "n", "w"], ["text", "integer", "text"], [(f"0.1.{k}", k % 500, f"w{k}") for k in range(2000)]),
-            "u": Source("u", ["id", "t", "m"], ["text", "text", "integer"], [(f"0.2.{k}", f"0.1.{k * 7 % 2000}", k) for k in range(2000)])}
+            "t": Source("t", ["id", "n", "w"], ["text", "integer", "text"],
+                        [(f"0.1.{k}", k % 500, f"w{k}") for k in range(2000)]),
+            "u": Source("u", ["id", "t", "m"], ["text", "text", "integer"],
+                        [(f"0.2.{k}", f"0.1.{k * 7 % 2000}", k) for k in range(2000)])}
 
     def many(self, text, seconds=1):
         started = time.process_time()
@@ -494,7 +532,8 @@ class Time(unittest.TestCase):
 
 class Deep(unittest.TestCase):
     ONE, TRUE, TABLE = ("literal", 1), ("literal", True), ("table", "t", None)
-    SOURCES = {"t": Source("t", ["id", "n", "b"], ["text", "integer", "boolean"], [("a", 1, True), ("b", 2, False), ("c", 3, None)])}
+    SOURCES = {"t": Source("t", ["id", "n", "b"], ["text", "integer", "boolean"],
+                           [("a", 1, True), ("b", 2, False), ("c", 3, None)])}
 
     def select(self, item, sources=TABLE, where=None, group=None, having=None):
         return ("select", False, ((item, "c"),), sources, where, group, having)
@@ -517,8 +556,10 @@ class Deep(unittest.TestCase):
                 (one, lambda part: ("negate", part), 1), (one, lambda part: ("binary", "+", part, one), 101),
                 (one, lambda part: ("binary", "+", one, part), 101), (true, lambda part: ("not", part), True),
                 (one, lambda part: ("case", true, part, one), 1), (true, lambda part: ("case", part, true, true), True),
-                (true, lambda part: ("binary", "and", part, true), True), (true, lambda part: ("binary", "or", ("literal", None), part), True),
-                (true, lambda part: ("is_null", part, True), True), (true, lambda part: ("in_list", part, (true, true), False), True),
+                (true, lambda part: ("binary", "and", part, true), True),
+                                   (true, lambda part: ("binary", "or", ("literal", None), part), True),
+                (true, lambda part: ("is_null", part, True), True),
+                                   (true, lambda part: ("in_list", part, (true, true), False), True),
                 (one, lambda part: ("binary", "-", part, one), -99)):
             self.assertEqual(repr(self.rows(self.select(self.grown(start, form), None))), repr([(value,)]))
 
@@ -533,8 +574,12 @@ class Deep(unittest.TestCase):
                 (self.TRUE, lambda part: ("in_query", self.TRUE, select(part), False), 3),
                 # Each of these uses a column of the select around.
                 (column("b"), lambda part: ("exists", select(self.ONE, where=("binary", "or", column("b"), part))), 3),
-                (self.TRUE, lambda part: ("exists", select(self.ONE, ("table", "t", "x"), ("binary", "and", ("binary", "<=", ("column", "x", "n"), outer), part))), 3),
-                (self.TRUE, lambda part: ("exists", select(self.ONE, ("join", table, ("table", "t", "x"), part, False))), 3)):
+                (self.TRUE,
+                 lambda part: ("exists",
+                               select(self.ONE, ("table", "t", "x"),
+                                      ("binary", "and", ("binary", "<=", ("column", "x", "n"), outer), part))), 3),
+                (self.TRUE,
+                 lambda part: ("exists", select(self.ONE, ("join", table, ("table", "t", "x"), part, False))), 3)):
             self.assertEqual(len(self.rows(select(self.ONE, where=self.grown(start, form)))), many)
 
     def test_queries_in_queries_with_values(self):
@@ -547,12 +592,15 @@ class Deep(unittest.TestCase):
         for depth in range(100):
             own, other = ("x", "y") if depth % 2 == 0 else ("y", "x")
             where = ("binary", "<=", ("column", own, "n"), ("column", other, "n"))
-            tree = ("scalar", self.select(("aggregate", "max", ("binary", "+", ("column", own, "n"), tree)), ("table", "t", own), where))
+            tree = ("scalar",
+                    self.select(("aggregate", "max", ("binary", "+", ("column", own, "n"), tree)), ("table", "t", own),
+                                where))
         self.assertEqual(len(self.rows(self.select(tree, ("table", "t", "x")))), 3)
 
     def test_queries_that_differ_for_each_of_many_rows(self):
         sources = {"t": Source("t", ["n"], ["integer"], [(number,) for number in range(60)])}
-        forms = [lambda query, other: ("exists", query), lambda query, other: ("in_query", ("column", other, "n"), query, False)]
+        forms = [lambda query, other: ("exists", query), lambda query,
+                 other: ("in_query", ("column", other, "n"), query, False)]
         for form in forms:
             tree = self.TRUE
             for depth in range(100):
@@ -566,7 +614,9 @@ class Deep(unittest.TestCase):
 
     def test_queries_in_from_and_set_operators(self):
         select, one, table = self.select, self.select(self.ONE), self.TABLE
-        self.assertEqual(len(self.rows(self.grown(one, lambda query: select(("column", "q", "c"), ("subquery", query, "q"))))), 3)
+        self.assertEqual(len(self.rows(self.grown(one,
+                                                  lambda query: select(("column", "q", "c"),
+                                                                       ("subquery", query, "q"))))), 3)
         self.assertEqual(len(self.rows(self.grown(one, lambda query: ("set", "union all", query, one)))), 303)
         self.assertEqual(len(self.rows(self.grown(one, lambda query: ("set", "except", one, query)))), 1)
         sources = table

@@ -83,7 +83,8 @@ class Primaries(Refusing):
     def test_case(self):
         self.assertEqual(expression("case when a then b else c end"), ("case", A, B, C))
         told = expression("case when a or b then not c else d = a end + case when a then b else c end")
-        self.assertEqual(told, binary("+", ("case", binary("or", A, B), ("not", C), binary("=", D, A)), ("case", A, B, C)))
+        self.assertEqual(told,
+                         binary("+", ("case", binary("or", A, B), ("not", C), binary("=", D, A)), ("case", A, B, C)))
 
     def test_parentheses(self):
         for depth in range(1, 13):
@@ -179,13 +180,15 @@ class Operators(Refusing):
         self.assertEqual(expression("a in (b)"), ("in_list", A, (B,), False))
         self.assertEqual(expression("a not in (b, c or d)"), ("in_list", A, (B, binary("or", C, D)), True))
         self.assertEqual(expression("a in (select 1)"), ("in_query", A, S1, False))
-        self.assertEqual(expression("a not in (select 1 union select 2)"), ("in_query", A, ("set", "union", S1, S2), True))
+        self.assertEqual(expression("a not in (select 1 union select 2)"),
+                         ("in_query", A, ("set", "union", S1, S2), True))
         self.assertEqual(expression("a in ((select 1))"), ("in_list", A, (("scalar", S1),), False))
         self.assertEqual(expression("a in ((select 1), b)"), ("in_list", A, (("scalar", S1), B), False))
         self.assertEqual(expression("a in ((b), (c))"), ("in_list", A, (B, C), False))
         for text in ("select a in @", "select a in @b", "select a in (@)", "select a in (b@", "select a in (b,@)",
                      "select a in (b @c)", "select a in (select 1, @", "select a in (select 1@",
-                     "select a in ((select 1) @union select 2)", "select a not @", "select a not @= b", "select a not in @b",
+                     "select a in ((select 1) @union select 2)", "select a not @", "select a not @= b",
+                     "select a not in @b",
                      "select a in (b) @+ c", "select a in (select 1) @* c", "select a in (b) @(c)"):
             self.refused_at(text)
 
@@ -225,13 +228,17 @@ class Queries(Refusing):
         self.assertEqual(query("select a where b"), select(A, where=B))
 
     def test_refused_selects(self):
-        for text in ("@", "  @", "@a", "@1", "@'select'", "select distinct @", "select distinct @distinct a", "select a @distinct",
+        for text in ("@", "  @", "@a", "@1", "@'select'", "select distinct @", "select distinct @distinct a",
+                     "select a @distinct",
                      "select a as @", "select a as @1", "select a as @count", "select a as b @c", "select a as b @as c",
-                     "select a,@", "select a from @", "select a from @1", "select a from @select 1", "select a from t @,u",
+                     "select a,@", "select a from @", "select a from @1", "select a from @select 1",
+                     "select a from t @,u",
                      "select a from t @as u", "select a from t u @v", "select a from t @. u",
                      "select a where @", "select a where b @from t", "select a where b @where c", "select a group @a",
-                     "select a group by @", "select a group by a,@", "select a group by a @where b", "select a having @",
-                     "select a having b @group by c", "select a having b @having c", "select a from t @on a", "select * @as b",
+                     "select a group by @", "select a group by a,@", "select a group by a @where b",
+                     "select a having @",
+                     "select a having b @group by c", "select a having b @having c", "select a from t @on a",
+                     "select * @as b",
                      "select a @)", "select a @select b", "@from t", "select a from t where b @c"):
             self.refused_at(text)
 
@@ -239,13 +246,16 @@ class Queries(Refusing):
         t, u, v = [("table", name, None) for name in "tuv"]
         for text, tree in (
                 ("t", t), ("t x", ("table", "t", "x")), ("(select 1) q", ("subquery", S1, "q")),
-                ("((select 1)) q", ("subquery", S1, "q")), ("(select 1 union select 2) q", ("subquery", ("set", "union", S1, S2), "q")),
+                ("((select 1)) q", ("subquery", S1, "q")),
+                           ("(select 1 union select 2) q", ("subquery", ("set", "union", S1, S2), "q")),
                 ("((select 1) union select 2) q", ("subquery", ("set", "union", S1, S2), "q")),
                 ("t join u on a", ("join", t, u, A, False)), ("t left join u on a", ("join", t, u, A, True)),
                 ("t x join u y on a = b", ("join", ("table", "t", "x"), ("table", "u", "y"), binary("=", A, B), False)),
-                ("t join u on a left join v on b or c", ("join", ("join", t, u, A, False), v, binary("or", B, C), True)),
+                ("t join u on a left join v on b or c",
+                 ("join", ("join", t, u, A, False), v, binary("or", B, C), True)),
                 ("t left join u on a join v on b", ("join", ("join", t, u, A, True), v, B, False)),
-                ("(select 1) q join (select 2) r on a", ("join", ("subquery", S1, "q"), ("subquery", S2, "r"), A, False)),
+                ("(select 1) q join (select 2) r on a",
+                 ("join", ("subquery", S1, "q"), ("subquery", S2, "r"), A, False)),
                 ("(select a from (select 1) q) r", ("subquery", select(A, sources=("subquery", S1, "q")), "r"))):
             self.assertEqual(query("select a from " + text), select(A, sources=tree))
             self.assertEqual(query(f"select a from {text} where b"), select(A, sources=tree, where=B))
@@ -273,9 +283,12 @@ class Queries(Refusing):
                          ("set", "union", select(A, sources=("table", "t", None), where=B), select(C, having=D)))
 
     def test_refused_set_operators(self):
-        for text in ("select 1 union@", "select 1 union all@", "select 1 union all @all select 2", "select 1 except @all select 2",
-                     "select 1 union @distinct select 2", "select 1 union @a", "select 1 union (@a)", "select 1 union (select 2@",
-                     "(select 1@", "(@", "((@)", "(select 1) @+ 2", "(select 1) @a", "(select 1) @select 2", "@union select 1",
+        for text in ("select 1 union@", "select 1 union all@", "select 1 union all @all select 2",
+                     "select 1 except @all select 2",
+                     "select 1 union @distinct select 2", "select 1 union @a", "select 1 union (@a)",
+                     "select 1 union (select 2@",
+                     "(select 1@", "(@", "((@)", "(select 1) @+ 2", "(select 1) @a", "(select 1) @select 2",
+                     "@union select 1",
                      "(select 1 union (select 2)@", "select 1 union select 2 @)", "(select 1) @, (select 2)", "(@)"):
             self.refused_at(text)
 
@@ -283,15 +296,20 @@ class Queries(Refusing):
         for text, order, limit in (
                 ("order by a", (("a", False),), None), ("order by a desc", (("a", True),), None),
                 ("order by 1, a desc, 007", ((1, False), ("a", True), (7, False)), None), ("limit 0", (), 0),
-                ("limit 007", (), 7), ("order by 0 limit 5", ((0, False),), 5), ("order by a, a desc", (("a", False), ("a", True)), None)):
+                ("limit 007", (), 7), ("order by 0 limit 5", ((0, False),), 5),
+                                   ("order by a, a desc", (("a", False), ("a", True)), None)):
             self.assertEqual(parse("select 1 " + text), ("question", S1, order, limit))
             self.assertEqual(parse(f"(select 1) {text}"), ("question", S1, order, limit))
-            self.assertEqual(parse(f"select 1 union select 2 {text}"), ("question", ("set", "union", S1, S2), order, limit))
+            self.assertEqual(parse(f"select 1 union select 2 {text}"),
+                             ("question", ("set", "union", S1, S2), order, limit))
 
     def test_refused_order_and_limit(self):
-        for text in ("order@", "order @a", "order by@", "order by @'a'", "order by @$1", "order by a@.b", "order by a @asc",
-                     "order by a,@", "order by a @b", "order by a desc @desc", "order by @-1", "order by a@+ b", "limit@", "limit @a",
-                     "limit @$1", "limit @-1", "limit 1 @2", "limit 1@, 2", "limit 1 @order by a", "limit 1 @limit 1", "order by @(a)",
+        for text in ("order@", "order @a", "order by@", "order by @'a'", "order by @$1", "order by a@.b",
+                     "order by a @asc",
+                     "order by a,@", "order by a @b", "order by a desc @desc", "order by @-1", "order by a@+ b",
+                     "limit@", "limit @a",
+                     "limit @$1", "limit @-1", "limit 1 @2", "limit 1@, 2", "limit 1 @order by a", "limit 1 @limit 1",
+                     "order by @(a)",
                      "order by a limit 1 @)", "order by @count", "order by @desc", "order by a @union select 2",
                      "limit 1 @union select 2", "order by a @where b"):
             self.refused_at("select 1 " + text)
@@ -361,7 +379,8 @@ class Limits(Refusing):
         for depth in (11, 12):
             self.assertEqual(expression("(" * depth + "a" + ")" * depth), A)
             self.assertEqual(query("(" * depth + "select 1" + ")" * depth), S1)
-            self.assertEqual(query("select a from " + "(" * depth + "select 1" + ")" * depth + " q"), select(A, sources=("subquery", S1, "q")))
+            self.assertEqual(query("select a from " + "(" * depth + "select 1" + ")" * depth + " q"),
+                             select(A, sources=("subquery", S1, "q")))
         for depth in (12, 13, 40):
             self.refused_at("select " + "(" * 12 + "@(" + "(" * (depth - 12) + "a")
             self.refused_at("(" * 12 + "@(" + "(" * (depth - 12) + "select 1")
@@ -380,7 +399,8 @@ class Limits(Refusing):
         parse("select " + "(" * 11 + "case when a then b else c end" + ")" * 11)
 
     def test_what_is_no_prefix_at_depth_12(self):
-        for text in ("a is not null", "a - b", "a - b is not null", "1 * 2", "a <> b", "count", "exists", "a not", "a not in", "a in"):
+        for text in ("a is not null", "a - b", "a - b is not null", "1 * 2", "a <> b", "count", "exists", "a not",
+                     "a not in", "a in"):
             inside = "select " + "(" * 12 + text
             if text in ("count", "exists", "a not", "a not in", "a in"):
                 self.refused(inside, len(inside))

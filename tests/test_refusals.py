@@ -11,7 +11,8 @@ from kithbase.tokens import KEYWORDS, tokenize
 WORDS = {"name": "abc", "integer": "120", "text": ["'x'", "''"], "parameter": ["$1", "$2"]}
 SIGNS = ["(", ")", ",", ".", "+", "-", "*", "/", "=", "<>", "<", "<=", ">", ">=", "||"]
 # Words that often continue a question are tried more often.
-LIKELY = ["select", "a", "b", "1", "(", ")", ",", "from", "in", "not", "is", "null", "union", "=", "-", "case", "join", "on"]
+LIKELY = ["select", "a", "b", "1", "(", ")", ",", "from", "in", "not", "is", "null", "union", "=", "-", "case", "join",
+          "on"]
 
 
 def shortest():

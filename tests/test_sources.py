@@ -95,7 +95,8 @@ class Sources(unittest.TestCase):
 
     def test_tables_that_do_not_hold_their_names(self):
         store = Store(1)
-        make(store, 0, [("table", "a"), ("table", "a"), ("row", T), ("row", (0, 1, 1)), ("column", (0, 1, 1), "x", "text")])
+        make(store, 0,
+             [("table", "a"), ("table", "a"), ("row", T), ("row", (0, 1, 1)), ("column", (0, 1, 1), "x", "text")])
         self.assertEqual(told_of(store), [("s0_a", ["id"], ["text"], [("0.1.2",)])])
 
     def test_columns_that_do_not_hold_their_names(self):
@@ -120,7 +121,8 @@ class Sources(unittest.TestCase):
         store = Store(1)
         column = (0, 1, 2)
         rows = [(0, 1, 4), (0, 1, 5)]
-        make(store, 0, [("table", "a"), ("column", T, "x", "text"), ("column", T, "x", "text"), ("unique", T, (column,)),
+        make(store, 0,
+             [("table", "a"), ("column", T, "x", "text"), ("column", T, "x", "text"), ("unique", T, (column,)),
                         ("row", T), ("row", T)] + [("put", row, column, "a") for row in rows])
         self.assertEqual(told_of(store)[0][3], [("0.1.4", None)])
 

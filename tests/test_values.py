@@ -6,7 +6,8 @@ import unittest
 from kithbase.values import arithmetic, compare, conjunction, disjunction, negation, row_key, same, value_key
 
 GREAT = 10 ** 40
-ORDERED = [None, False, True, -10 ** 45, -GREAT, -2, -1, 0, 1, 2, 10, GREAT - 1, GREAT, 10 ** 45, "", "\n", " ", "'", "0",
+ORDERED = [None, False, True, -10 ** 45, -GREAT, -2, -1, 0, 1, 2, 10, GREAT - 1, GREAT, 10 ** 45, "", "\n", " ", "'",
+           "0",
            "10", "2", "A", "a", "aa", "ab", "b", "~"]
 TRUTHS = (True, False, None)
 
@@ -65,9 +66,12 @@ class Arithmetic(unittest.TestCase):
             self.assertEqual(arithmetic("*", first, second), first * second)
 
     def test_signs_of_quotients_and_remainders(self):
-        for first, second, quotient, rest in ((7, 2, 3, 1), (-7, 2, -3, -1), (7, -2, -3, 1), (-7, -2, 3, -1), (6, 3, 2, 0),
-                                              (-6, 3, -2, 0), (6, -3, -2, 0), (-6, -3, 2, 0), (0, 5, 0, 0), (0, -5, 0, 0),
-                                              (1, 2, 0, 1), (-1, 2, 0, -1), (1, -2, 0, 1), (-1, -2, 0, -1), (5, 1, 5, 0)):
+        for first, second, quotient, rest in ((7, 2, 3, 1), (-7, 2, -3, -1), (7, -2, -3, 1), (-7, -2, 3, -1),
+                                              (6, 3, 2, 0),
+                                              (-6, 3, -2, 0), (6, -3, -2, 0), (-6, -3, 2, 0), (0, 5, 0, 0),
+                                              (0, -5, 0, 0),
+                                              (1, 2, 0, 1), (-1, 2, 0, -1), (1, -2, 0, 1), (-1, -2, 0, -1),
+                                              (5, 1, 5, 0)):
             self.assertEqual(arithmetic("/", first, second), quotient, (first, second))
             self.assertEqual(arithmetic("mod", first, second), rest, (first, second))
 
@@ -149,13 +153,15 @@ class Truth(unittest.TestCase):
 
     def test_and(self):
         expected = {(True, True): True, (True, False): False, (True, None): None, (False, True): False,
-                    (False, False): False, (False, None): False, (None, True): None, (None, False): False, (None, None): None}
+                    (False, False): False, (False, None): False, (None, True): None, (None, False): False,
+                    (None, None): None}
         for first, second in itertools.product(TRUTHS, repeat=2):
             self.assertIs(conjunction(first, second), expected[first, second])
 
     def test_or(self):
         expected = {(True, True): True, (True, False): True, (True, None): True, (False, True): True,
-                    (False, False): False, (False, None): None, (None, True): True, (None, False): None, (None, None): None}
+                    (False, False): False, (False, None): None, (None, True): True, (None, False): None,
+                    (None, None): None}
         for first, second in itertools.product(TRUTHS, repeat=2):
             self.assertIs(disjunction(first, second), expected[first, second])
 

@@ -18,7 +18,8 @@ SETUP = [("table", "t"), ("table", "u"), ("column", T, "n", "integer"), ("column
 
 
 def columns_of(table):
-    return {"n": NUMBER, "w": WORD, "b": TRUTH, "rt": TO_T, "ru": TO_U, "rt2": ALSO_TO_T} if table == T else {"rt": OF_U}
+    return {"n": NUMBER, "w": WORD, "b": TRUTH, "rt": TO_T, "ru": TO_U,
+            "rt2": ALSO_TO_T} if table == T else {"rt": OF_U}
 
 
 class Office:
@@ -228,7 +229,8 @@ class Referring(unittest.TestCase):
 
     def test_kept_references_that_fail(self):
         table, other, column, row, of_other = [(0, 1, place) for place in range(5)]
-        acts = [("table", "t"), ("table", "u"), ("column", table, "r", ("refer", table)), ("row", table), ("row", other)]
+        acts = [("table", "t"), ("table", "u"), ("column", table, "r", ("refer", table)), ("row", table),
+                ("row", other)]
         # A row of another table, a row that is not kept, and spots of a column and of nothing.
         for target in (of_other, (0, 1, 7), column, (0, 9, 9)):
             store = Store(1)
@@ -264,7 +266,8 @@ class Referring(unittest.TestCase):
         for row, target in zip(rows, rows[1:] + rows[:1]):
             office.write(row, rt=target)
         office.write(rows[1], n=1)
-        expected = {rows[0]: ("refers", TO_T, rows[1]), rows[1]: ("yields", 0, holder), rows[2]: ("refers", TO_T, rows[0])}
+        expected = {rows[0]: ("refers", TO_T, rows[1]), rows[1]: ("yields", 0, holder),
+                    rows[2]: ("refers", TO_T, rows[0])}
         self.assertEqual((office.reasons(), office.showing()), (expected, [holder]))
 
     def test_a_circle_with_a_row_that_is_dropped(self):
@@ -351,7 +354,8 @@ class Conflicts(unittest.TestCase):
         table, other = (0, 1, 0), (0, 1, 3)
         make(store, 0, [("table", "a"), ("column", table, "id", "text"), ("column", table, "x", "text"), ("table", "a"),
                         ("column", other, "x", "text"), ("column", other, "x", "text"), ("column", table, "x", "text")])
-        expected = [(other, "a", table), ((0, 1, 1), "id", None), ((0, 1, 6), "x", (0, 1, 2)), ((0, 1, 5), "x", (0, 1, 4))]
+        expected = [(other, "a", table), ((0, 1, 1), "id", None), ((0, 1, 6), "x", (0, 1, 2)),
+                    ((0, 1, 5), "x", (0, 1, 4))]
         self.assertEqual(self.names(store), expected)
 
     def test_rows_of_all_tables_together(self):
@@ -408,7 +412,8 @@ class Cells(unittest.TestCase):
 
     def test_counters_and_letters_are_never_in_conflict(self):
         for member in (1, 2):
-            self.say(member, ("add", self.rows[0], self.columns[2], 1), ("insert", self.rows[0], self.columns[3], None, "a"))
+            self.say(member, ("add", self.rows[0], self.columns[2], 1),
+                     ("insert", self.rows[0], self.columns[3], None, "a"))
         self.assertEqual(self.cells(), [])
 
     def test_the_order(self):
