@@ -11,16 +11,6 @@ NEEDED = {"and": "boolean", "or": "boolean", "+": "integer", "-": "integer", "*"
           "mod": "integer", "||": "text"}
 
 
-class Checking(Scope):
-    """A scope whose columns are triples (source, name, kind), and what may stand in its expressions now."""
-
-    def __init__(self, setting, around, columns):
-        Scope.__init__(self, setting, around, columns)
-        self.allows = False
-        # The indexes of the only columns that may be used, or None if all may.
-        self.grouped = None
-
-
 def kind_of(value):
     """Returns the kind of a value."""
     if value is None:
@@ -51,7 +41,7 @@ def check(tree, sources, parameters):
 def check_query(query, sources, parameters):
     """Checks a query, and returns the list of pairs (name, kind) of its columns."""
     check_one = QUERIES[query[0]]
-    return check_one(Checking(Setting(sources, parameters), None, []), query)
+    return check_one(Scope(Setting(sources, parameters), None, []), query)
 
 
 def _check_key(columns, key):
@@ -90,7 +80,7 @@ def _set(around, tree):
 def _select(around, tree):
     """Checks a select."""
     _, distinct, items, sources, where, group, having = tree
-    scope = Checking(around.setting, around, [] if sources is None else _sources(around, sources))
+    scope = Scope(around.setting, around, [] if sources is None else _sources(around, sources))
     if where is not None:
         _need(_expression(scope, where), "boolean")
     grouped = {} if group is None else _group(scope, group)
@@ -155,7 +145,7 @@ def _join(around, tree):
     for name in source_names(tree[1]):
         if name in others:
             raise DuplicateSource(name)
-    _need(_expression(Checking(around.setting, around, columns), tree[3]), "boolean")
+    _need(_expression(Scope(around.setting, around, columns), tree[3]), "boolean")
     return columns
 
 

@@ -16,17 +16,6 @@ MOST_LISTS = 50
 MOST_VALUES = 100000
 
 
-class Planning(Scope):
-    """A scope whose columns are pairs (source, name), and what is noted while functions are made in it."""
-
-    def __init__(self, setting, around, columns):
-        Scope.__init__(self, setting, around, columns)
-        # The columns of the scopes around this one that are used in it, as pairs of a depth and an index.
-        self.reads = {}
-        # The aggregates over the groups, as pairs of a word and the function of the operand.
-        self.folds = []
-
-
 def answer(tree, sources, parameters):
     """Checks the question, and returns the pair of the names of its columns and the list of its rows."""
     names = [name for name, kind in check(tree, sources, parameters)]
@@ -40,7 +29,7 @@ def answer(tree, sources, parameters):
 def query_rows(query, sources, parameters):
     """Returns the list of the rows of a checked query, in the order in which they are made."""
     plan = QUERIES[query[0]]
-    names, run = plan(Planning(Setting(sources, parameters), None, []), query)
+    names, run = plan(Scope(Setting(sources, parameters), None, []), query)
     return run({})
 
 
@@ -56,7 +45,7 @@ def _select(around, tree):
     """Returns the names of the columns of a select, and its function."""
     _, distinct, items, sources, where, group, having = tree
     columns, source_rows = _from(around, sources)
-    scope = Planning(around.setting, around, columns)
+    scope = Scope(around.setting, around, columns)
     where_holds = constant(True) if where is None else _expression(scope, where)
     names = [name for source, name in columns] if items is None else []
     shown = [reading(scope.depth, index) for index in range(len(names))]
@@ -119,7 +108,7 @@ def _from(around, tree):
 
 def _within(around):
     """Returns a scope without columns, which notes what is used of the scopes around it."""
-    return Planning(around.setting, around, [])
+    return Scope(around.setting, around, [])
 
 
 def _readers(scope):
@@ -150,7 +139,7 @@ def _join(around, tree):
     plan_left, plan_right = SOURCES[tree[1][0]], SOURCES[tree[2][0]]
     left, left_rows = plan_left(around, tree[1])
     right, right_rows = plan_right(around, tree[2])
-    scope = Planning(around.setting, around, left + right)
+    scope = Scope(around.setting, around, left + right)
     parts, first_key, second_key = _condition(scope, tree[3], len(left))
     depth, outer = scope.depth, tree[4]
 

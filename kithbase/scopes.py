@@ -12,14 +12,22 @@ class Setting:
 
 
 class Scope:
-    """The columns of a select, or of the two sides of a join, and the scope around it."""
+    """The columns of a select, or of the two sides of a join, the scope around it, and what is noted of it."""
 
     def __init__(self, setting, around, columns):
         self.setting = setting
         self.around = around
         self.depth = 0 if around is None else around.depth + 1
-        # Tuples that begin with the name of a source and the name of a column of it.
+        # Tuples that begin with the name of a source and the name of a column; the check has their kinds, too.
         self.columns = columns
+        # For the check: whether aggregates may stand here now, and the indexes of the only columns that may be used
+        # now, or None if all may.
+        self.allows = False
+        self.grouped = None
+        # For the meaning: the columns of the scopes around this one that are used in it, as pairs of a depth and an
+        # index, and the aggregates over the groups, as pairs of a word and the function of the operand.
+        self.reads = {}
+        self.folds = []
 
 
 def find_column(scope, source, name):

@@ -191,6 +191,12 @@ class Names(unittest.TestCase):
                     if isinstance(node, ast.Attribute) and isinstance(node.ctx, ast.Store):
                         self.assertNotIn(node.attr, methods, path)
 
+    def test_nothing_is_read_off_a_class(self):
+        classes = {node.name for path in FILES for node in nodes(path, ast.ClassDef)}
+        for path in FILES:
+            for node in nodes(path, ast.Attribute):
+                self.assertFalse(isinstance(node.value, ast.Name) and node.value.id in classes, (path, node.lineno))
+
     def test_words_that_do_not_occur(self):
         for path in FILES:
             told = docstrings(path)
