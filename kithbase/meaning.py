@@ -11,7 +11,7 @@ from kithbase.scopes import Scope, Setting, find_column
 from kithbase.trees import column_name, conjuncts, known_as, makes_groups, operands_of, query_of
 from kithbase.values import value_key
 
-# How many answers of a query in another one are remembered, of those that are lists and of those that are values.
+# How many answers of a query in another one are remembered, of those that take much room and of those that are values.
 MOST_LISTS = 50
 MOST_VALUES = 100000
 
@@ -218,12 +218,12 @@ def _expression(scope, tree):
     inner = _within(scope)
     plan = QUERIES[query[0]]
     names, run = plan(inner, query)
-    shape, most = SHAPES[tree[0]]
-    told = remembered(_readers(inner), run, shape, most)
+    shape = SHAPES[tree[0]]
     if tree[0] != "in_query":
-        return told
+        return remembered(_readers(inner), run, shape, MOST_VALUES)
     # The keys of a query take much room, so not many of them are remembered, but what follows from them is.
-    truth = formula(tree, functions + [told])
+    keys = remembered(_readers(inner), run, shape, MOST_LISTS)
+    truth = formula(tree, functions + [keys])
     return remembered(functions + _readers(inner), truth, _as_it_is, MOST_VALUES)
 
 
@@ -270,7 +270,6 @@ def _aggregate(scope, tree, functions):
 
 QUERIES = {"select": _select, "set": _set}
 SOURCES = {"table": _table, "subquery": _subquery, "join": _join}
-SHAPES = {"exists": (_is_there, MOST_VALUES), "scalar": (_only_value, MOST_VALUES),
-          "in_query": (_keys_of_column, MOST_LISTS)}
+SHAPES = {"exists": _is_there, "scalar": _only_value, "in_query": _keys_of_column}
 LEAVES = {"literal": _literal, "parameter": _parameter, "column": _column, "count_all": _aggregate,
           "aggregate": _aggregate}

@@ -31,8 +31,8 @@ FUNCTIONS = {
         "check": ["tree", "sources", "parameters"], "check_query": ["query", "sources", "parameters"]},
     "values": {
         "value_key": ["value"], "row_key": ["row"], "same": ["first", "second"],
-        "arithmetic": ["operator", "first", "second"], "compare": ["operator", "first", "second"], "negation": ["value"],
-        "conjunction": ["first", "second"], "disjunction": ["first", "second"]},
+        "arithmetic": ["operator", "first", "second"], "compare": ["operator", "first", "second"],
+        "negation": ["value"], "conjunction": ["first", "second"], "disjunction": ["first", "second"]},
     "meaning": {"query_rows": ["query", "sources", "parameters"], "answer": ["tree", "sources", "parameters"]},
     "live": {
         "came": ["old", "new"], "went": ["old", "new"], "change_of": ["old", "new"],

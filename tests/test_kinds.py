@@ -48,8 +48,7 @@ class Checking(unittest.TestCase):
 class Kinds(unittest.TestCase):
     def test_kind_of(self):
         for value, kind in ((None, "null"), (True, "boolean"), (False, "boolean"), (0, "integer"),
-                            (-10 ** 40, "integer"),
-                            ("", "text"), ("a", "text")):
+                            (-10 ** 40, "integer"), ("", "text"), ("a", "text")):
             self.assertEqual(kind_of(value), kind)
 
     def test_fits_and_common(self):
@@ -265,9 +264,8 @@ class Operators(Checking):
     def test_scalar(self):
         for text, kind in (("count(*)", "integer"), ("max(n)", "integer"), ("min(w)", "text"), ("max(b)", "boolean"),
                            ("max(null)", "null"), ("1 + count(n)", "integer"),
-                           ("case when count(*) = 1 then 'a' else 'b' end", "text"),
-                           ("count(*) in (1, 2)", "boolean"), ("1 in (0, count(*))", "boolean"),
-                           ("not count(*) is null", "boolean"),
+                           ("case when count(*) = 1 then 'a' else 'b' end", "text"), ("count(*) in (1, 2)", "boolean"),
+                           ("1 in (0, count(*))", "boolean"), ("not count(*) is null", "boolean"),
                            ("- sum(n)", "integer"), ("count(*) in (select 1)", "boolean")):
             self.assertEqual(self.kind(f"(select {text} from t)"), kind)
         self.assertEqual(self.kind("(select distinct count(*) where false)"), "integer")
@@ -281,8 +279,8 @@ class Operators(Checking):
         for text in ("select 1", "select n from t", "select * from v", "select count(*) union select count(*)",
                      "select count(*) from t group by n", "select count(*) from t having true", "select 1 having true",
                      "select (select count(*) from t)", "select exists (select count(*))",
-                     "select 1 in (select count(*))",
-                     "select 1 where exists (select max(n) from t)", "select n from (select count(*) as n) q"):
+                     "select 1 in (select count(*))", "select 1 where exists (select max(n) from t)",
+                     "select n from (select count(*) as n) q"):
             self.refused(errors.RowCount, f"select ({text})")
 
     def test_case(self):
@@ -458,10 +456,9 @@ class Grouping(Checking):
 
     def test_columns_that_are_grouped(self):
         for text in ("select n + count(*), max(w) from t group by n", "select n from t group by t.n",
-                     "select t.n from t group by n",
-                     "select x.n from t x group by n having x.n = 1", "select sum(n) from t group by w having min(b)",
-                     "select 1 from t group by n", "select 1 from t having true",
-                     "select count(*) from t having max(b)"):
+                     "select t.n from t group by n", "select x.n from t x group by n having x.n = 1",
+                     "select sum(n) from t group by w having min(b)", "select 1 from t group by n",
+                     "select 1 from t having true", "select count(*) from t having max(b)"):
             self.columns(text)
 
     def test_the_same_name_in_two_sources(self):
@@ -538,9 +535,8 @@ class Stars(Checking):
 class Answers(Checking):
     def test_names_of_columns(self):
         for text, name in (("n", "n"), ("t.n", "n"), ("n as x", "x"), ("t.n as id", "id"), ("n + 1", ""), ("(n)", "n"),
-                           ("1", ""),
-                           ("- n", ""), ("count(*)", ""), ("count(*) as many", "many"), ("$1", ""), ("max(n)", ""),
-                           ("(select max(m) from u)", "")):
+                           ("1", ""), ("- n", ""), ("count(*)", ""), ("count(*) as many", "many"), ("$1", ""),
+                           ("max(n)", ""), ("(select max(m) from u)", "")):
             self.assertEqual(self.columns(f"select {text} from t")[0][0], name)
 
     def test_set_operators(self):
@@ -611,8 +607,8 @@ class Given(Checking):
         queries = [lambda query: select(("column", "q", "c"), sources=("subquery", query, "q")),
                    lambda query: ("set", "union", query, select(one)),
                    lambda query: ("set", "except", select(one), query),
-                   lambda query: select(one,
-                                        sources=("join", table, ("subquery", query, "q"), ("literal", True), True))]
+                   lambda query: select(
+                       one, sources=("join", table, ("subquery", query, "q"), ("literal", True), True))]
         for form in queries:
             self.assertEqual(check_query(grown(select(one), form), some_sources(), [])[0][1], "integer")
 

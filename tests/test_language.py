@@ -12,19 +12,19 @@ FILES = sorted(PACKAGE.rglob("*.py"))
 STATEMENTS = (ast.Import, ast.Global, ast.AsyncFunctionDef, ast.AsyncFor, ast.AsyncWith, ast.Await, ast.Try, ast.Yield,
               ast.YieldFrom, ast.With, ast.Set, ast.SetComp, ast.AnnAssign, ast.Match)
 LIBRARY = ("heapq", "math", "itertools", "collections")
-BUILTINS = set("""len range enumerate zip min max sum abs sorted reversed int str bool list tuple dict isinstance ord repr
-    any all divmod pow""".split())
+BUILTINS = set("""len range enumerate zip min max sum abs sorted reversed int str bool list tuple dict isinstance ord
+    repr any all divmod pow""".split())
 METHODS = set("""append clear copy count endswith extend find get index insert isalnum isalpha isdigit islower isspace
     isupper items join keys ljust lower lstrip partition pop remove replace reverse rfind rjust rpartition rsplit rstrip
     setdefault split splitlines startswith strip update upper values zfill bit_length""".split())
 CHANGING = set("append clear extend insert pop remove reverse setdefault update".split())
-NO_ATTRIBUTES = set("""items keys values pop update append clear extend insert remove reverse setdefault sort args encode
-    decode hex fromhex format""".split())
-NO_NAMES = set("""register mro elements open input law version_info with_traceback add_note attrgetter breakpoint builtins
-    compile copyright credits delattr dir eval exec exit gc getattr globals hasattr help id importlib license locals
-    methodcaller os quit setattr super type vars sys""".split())
-NO_WORDS = """type typing typing_extensions enum Enum IntEnum StrEnum Flag IntFlag Generic Protocol ABC ABCMeta namedtuple
-    NamedTuple TypedDict TYPE_CHECKING abstractmethod dataclass overload contextmanager""".split()
+NO_ATTRIBUTES = set("""items keys values pop update append clear extend insert remove reverse setdefault sort args
+    encode decode hex fromhex format""".split())
+NO_NAMES = set("""register mro elements open input law version_info with_traceback add_note attrgetter breakpoint
+    builtins compile copyright credits delattr dir eval exec exit gc getattr globals hasattr help id importlib license
+    locals methodcaller os quit setattr super type vars sys""".split())
+NO_WORDS = """type typing typing_extensions enum Enum IntEnum StrEnum Flag IntFlag Generic Protocol ABC ABCMeta
+    namedtuple NamedTuple TypedDict TYPE_CHECKING abstractmethod dataclass overload contextmanager""".split()
 AT_ONCE = ("zip", "enumerate", "reversed", "map")
 TAKERS = ("list", "tuple", "dict", "sorted", "sum", "any", "all", "enumerate", "zip", "min", "max")
 FUNCTIONS = (ast.FunctionDef, ast.Lambda)
@@ -120,6 +120,19 @@ class Files(unittest.TestCase):
                 self.assertIsInstance(node, allowed, path)
                 if isinstance(node, ast.Expr):
                     self.assertTrue(place == 0 and isinstance(node.value, ast.Constant), path)
+
+
+    def test_what_the_module_level_names(self):
+        for path in FILES:
+            functions = set()
+            for node in TREES[path].body:
+                if isinstance(node, ast.FunctionDef):
+                    functions.add(node.name)
+                if isinstance(node, ast.Assign):
+                    self.assertEqual(len(node.targets), 1, (path, node.lineno))
+                    for part in ast.walk(node.value):
+                        self.assertNotIsInstance(part, (ast.Call, ast.Attribute, ast.Subscript), (path, node.lineno))
+                        self.assertTrue(not isinstance(part, ast.Name) or part.id in functions, (path, node.lineno))
 
 
 class Imports(unittest.TestCase):
@@ -238,8 +251,8 @@ class Calls(unittest.TestCase):
                     self.assertTrue(called or kinds or bases or key, (path, node.id, node.lineno))
 
     def test_keywords(self):
-        allowed = {"sorted": ("key", "reverse"), "min": ("key", "default"), "max": ("key", "default"), "sum": ("start",),
-                   "enumerate": ("start",), "zip": ("strict",)}
+        allowed = {"sorted": ("key", "reverse"), "min": ("key", "default"), "max": ("key", "default"),
+                   "sum": ("start",), "enumerate": ("start",), "zip": ("strict",)}
         for path in FILES:
             for node in nodes(path, ast.Call):
                 name = node.func.id if isinstance(node.func, ast.Name) else None
@@ -265,17 +278,20 @@ class Calls(unittest.TestCase):
             above = parents(path)
             for node in nodes(path, ast.GeneratorExp):
                 self.assertIsInstance(above[node], ast.Call, path)
-                self.assertIn(above[node].func.id, ("list", "tuple", "dict", "sorted", "sum", "min", "max", "any", "all"))
+                takers = ("list", "tuple", "dict", "sorted", "sum", "min", "max", "any", "all")
+                self.assertIn(above[node].func.id, takers)
                 self.assertEqual(len(above[node].args) + len(above[node].keywords), 1, path)
 
     def test_what_a_loop_goes_over_is_not_changed(self):
         for path in FILES:
             for loop in nodes(path, ast.For):
-                over = {ast.unparse(node) for node in ast.walk(loop.iter) if isinstance(node, (ast.Name, ast.Attribute))}
+                kinds = (ast.Name, ast.Attribute)
+                over = {ast.unparse(node) for node in ast.walk(loop.iter) if isinstance(node, kinds)}
                 for node in [inner for statement in loop.body for inner in ast.walk(statement)]:
                     changed = None
-                    if isinstance(node, ast.Call) and isinstance(node.func, ast.Attribute) and node.func.attr in CHANGING:
-                        changed = node.func.value
+                    method = node.func if isinstance(node, ast.Call) else None
+                    if isinstance(method, ast.Attribute) and method.attr in CHANGING:
+                        changed = method.value
                     if isinstance(node, ast.Subscript) and not isinstance(node.ctx, ast.Load):
                         changed = node.value
                     if changed is not None:
@@ -346,7 +362,8 @@ class Values(unittest.TestCase):
             for node in nodes(path, ast.Name):
                 if node.id in tables and isinstance(node.ctx, ast.Load):
                     parent = above[node]
-                    read = isinstance(parent, ast.Subscript) and parent.value is node and isinstance(parent.ctx, ast.Load)
+                    read = isinstance(parent, ast.Subscript) and parent.value is node
+                    read = read and isinstance(parent.ctx, ast.Load)
                     method = isinstance(parent, ast.Attribute) and parent.attr in ("get", "items", "keys", "values")
                     tested = isinstance(parent, ast.Compare) or (isinstance(parent, ast.For) and parent.iter is node)
                     copied = isinstance(parent, ast.Call) and parent.func.id in ("list", "dict", "len", "sorted")

@@ -59,17 +59,15 @@ class Expressions(Asking):
     def test_arithmetic(self):
         for text, value in (("7 + 2 * 3", 13), ("7 - 2 - 3", 2), ("- 7 / 2", -3), ("7 / - 2", -3), ("- 7 mod 2", -1),
                             ("7 mod - 2", 1), ("- (7 / 2)", -3), ("- - 5", 5), ("1 / 0", None), ("1 mod 0", None),
-                            ("1 + null", None),
-                            ("- null", None), ("'a' || 'b' || ''", "ab"), ("'a' || null", None)):
+                            ("1 + null", None), ("- null", None), ("'a' || 'b' || ''", "ab"), ("'a' || null", None)):
             self.alike(self.value(text), value)
 
     def test_great_results(self):
         most = GREAT - 1
         for text, value in (("$1 + 0", most), ("$1 + 1", None), ("$2 - 1", None), ("- $1", -most), ("- $2", most),
-                            ("$1 - - 1", None),
-                            ("$1 * 2", None), ("- $3", None), ("$3 - 1", most), ("$3 / 1", None), ("$3", GREAT),
-                            ("$3 mod 7", GREAT - GREAT // 7 * 7),
-                            ("($1 + 1) is null", True), ("$3 > $1", True)):
+                            ("$1 - - 1", None), ("$1 * 2", None), ("- $3", None), ("$3 - 1", most), ("$3 / 1", None),
+                            ("$3", GREAT), ("$3 mod 7", GREAT - GREAT // 7 * 7), ("($1 + 1) is null", True),
+                            ("$3 > $1", True)):
             self.alike(self.value(text, most, -most, GREAT), value)
 
     def test_long_texts(self):
@@ -78,10 +76,8 @@ class Expressions(Asking):
 
     def test_comparisons(self):
         for text, value in (("1 < 2", True), ("'b' < 'a'", False), ("false < true", True), ("1 = 1", True),
-                            ("1 <> 1", False),
-                            ("null = null", None), ("null <> 1", None), ("'a' >= null", None), ("true = true", True),
-                            ("'10' < '9'", True),
-                            ("1 = 1 = true", True), ("'' <= ' '", True)):
+                            ("1 <> 1", False), ("null = null", None), ("null <> 1", None), ("'a' >= null", None),
+                            ("true = true", True), ("'10' < '9'", True), ("1 = 1 = true", True), ("'' <= ' '", True)):
             self.alike(self.value(text), value)
 
     def test_truths(self):
@@ -103,35 +99,33 @@ class Expressions(Asking):
 
     def test_is_null(self):
         for text, value in (("null is null", True), ("null is not null", False), ("1 is null", False),
-                            ("false is not null", True),
-                            ("0 is null", False), ("'' is null", False), ("(null = 1) is null", True)):
+                            ("false is not null", True), ("0 is null", False), ("'' is null", False),
+                            ("(null = 1) is null", True)):
             self.alike(self.value(text), value)
 
     def test_in_a_list(self):
         for text, value in (("1 in (1, 2)", True), ("3 in (1, 2)", False), ("3 in (1, null)", None),
-                            ("1 in (null, 1)", True),
-                            ("null in (1, 2)", None), ("null in (null)", None), ("true in (false, true)", True),
-                            ("'a' in ('A')", False)):
+                            ("1 in (null, 1)", True), ("null in (1, 2)", None), ("null in (null)", None),
+                            ("true in (false, true)", True), ("'a' in ('A')", False)):
             self.alike(self.value(text), value)
             self.alike(self.value(text.replace(" in ", " not in ")), None if value is None else not value)
 
     def test_in_a_query(self):
         for text, value in (("1 in (select m from u)", True), ("3 in (select m from u)", True),
-                            ("9 in (select m from u)", None),
-                            ("9 in (select m from u where m > 0)", False), ("1 in (select m from u where m > 0)", True),
-                            ("null in (select m from u)", None), ("null in (select m from u where m > 0)", None),
-                            ("null in (select n from empty)", False), ("1 in (select n from empty)", False),
-                            ("null in (select m from u where false)", False), ("1 in (select null)", None),
-                            ("1 in (select 2 union select 1)", True), ("false in (select b from t)", True),
-                            ("'z' in (select w from t)", None), ("'x' in (select w from t)", True)):
+                            ("9 in (select m from u)", None), ("9 in (select m from u where m > 0)", False),
+                            ("1 in (select m from u where m > 0)", True), ("null in (select m from u)", None),
+                            ("null in (select m from u where m > 0)", None), ("null in (select n from empty)", False),
+                            ("1 in (select n from empty)", False), ("null in (select m from u where false)", False),
+                            ("1 in (select null)", None), ("1 in (select 2 union select 1)", True),
+                            ("false in (select b from t)", True), ("'z' in (select w from t)", None),
+                            ("'x' in (select w from t)", True)):
             self.alike(self.value(text), value)
             self.alike(self.value(text.replace(" in ", " not in ")), None if value is None else not value)
 
     def test_exists(self):
         for text, value in (("exists (select 1)", True), ("exists (select null)", True),
-                            ("exists (select 1 where false)", False),
-                            ("exists (select * from empty)", False), ("exists (select count(*) from empty)", True),
-                            ("not exists (select 1 where null)", True)):
+                            ("exists (select 1 where false)", False), ("exists (select * from empty)", False),
+                            ("exists (select count(*) from empty)", True), ("not exists (select 1 where null)", True)):
             self.alike(self.value(text), value)
 
     def test_case(self):
@@ -141,8 +135,8 @@ class Expressions(Asking):
 
     def test_scalar_queries(self):
         for text, value in (("(select count(*) from t)", 4), ("(select max(n) from t) + 1", 3),
-                            ("(select sum(n) from empty)", None),
-                            ("(select count(*) where false)", 0), ("(select distinct min(w) from t)", "x")):
+                            ("(select sum(n) from empty)", None), ("(select count(*) where false)", 0),
+                            ("(select distinct min(w) from t)", "x")):
             self.alike(self.value(text), value)
 
 
@@ -161,7 +155,8 @@ class Around(Asking):
         self.assertEqual(self.values("select id from t where exists (select 1 from u where m = n)"), ["a", "d"])
         self.assertEqual(self.rows("select t.id, key from t join u on (select count(*) where m = n) = 1"),
                          [("a", "k"), ("a", "l"), ("d", "k"), ("d", "l")])
-        self.assertEqual(self.values("select id from t where n = (select min(q.m) from (select m from u where m = n) q)"), ["a", "d"])
+        text = "select id from t where n = (select min(q.m) from (select m from u where m = n) q)"
+        self.assertEqual(self.values(text), ["a", "d"])
         self.assertEqual(self.rows("select w, count(*) from t group by w having exists (select 1 where w = 'x')"),
                          [("x", 2)])
         self.assertEqual(self.rows("select w, (select count(*) from u where key > w) from t group by w"),
@@ -172,7 +167,8 @@ class Around(Asking):
     def test_two_selects_around(self):
         text = "select id, (select count(*) from u where exists (select 1 where n = m and b)) from t"
         self.assertEqual(self.rows(text), [("a", 2), ("b", 0), ("c", 0), ("d", 2)])
-        text = "select id from t where exists (select 1 from u where key in (select key from u x where x.m = n and x.key > 'k'))"
+        inner = "select key from u x where x.m = n and x.key > 'k'"
+        text = f"select id from t where exists (select 1 from u where key in ({inner}))"
         self.assertEqual(self.values(text), ["a", "d"])
 
     def test_the_innermost_scope_decides(self):
@@ -247,11 +243,9 @@ class Sources(Asking):
     def test_equations_of_many_forms(self):
         plain = self.rows("select id, key from t join u on n = m")
         for text in ("m = n", "n + 0 = m", "m + n = n + n", "n - m = 0", "not n <> m", "n = m and true",
-                     "true and (m = n and n = m)",
-                     "n = m = true", "n in (m)", "m in (select n)", "(select max(n)) = (select max(m))",
-                     "n * 2 = m * 2",
-                     "n = m and 1 = 1", "1 = 1 and m = n", "n = m and key <> id", "0 = n - m",
-                     "case when n = m then true else null end"):
+                     "true and (m = n and n = m)", "n = m = true", "n in (m)", "m in (select n)",
+                     "(select max(n)) = (select max(m))", "n * 2 = m * 2", "n = m and 1 = 1", "1 = 1 and m = n",
+                     "n = m and key <> id", "0 = n - m", "case when n = m then true else null end"):
             self.assertEqual(self.rows(f"select id, key from t join u on {text}"), plain, text)
 
     def test_equations_with_the_scopes_around(self):
@@ -270,9 +264,8 @@ class Sources(Asking):
         # What is used of the scopes around does not belong to a side, wherever it stands there.
         around = "select (select count(*) from t join u on {}) from t x join u y on x.id = 'a' and y.key = 'm'"
         for text, many in (("m + x.n = n + y.m", 2), ("n + y.m = m + x.n", 2), ("n + x.n = m + y.m", 0),
-                           ("m + y.m = n + x.n", 0),
-                           ("n * y.m = m * 3", 4), ("x.n = y.m", 0), ("x.n = n", 8), ("m = y.m", 4),
-                           ("x.n + 2 = y.m", 16)):
+                           ("m + y.m = n + x.n", 0), ("n * y.m = m * 3", 4), ("x.n = y.m", 0), ("x.n = n", 8),
+                           ("m = y.m", 4), ("x.n + 2 = y.m", 16)):
             self.assertEqual(self.values(around.format(text)), [many], text)
 
     def test_true_does_not_join_1(self):
@@ -327,8 +320,8 @@ class Groups(Asking):
         self.assertEqual(self.rows("select max(n) from t group by w having min(n) = max(n)"), [(1,), (2,), (1,)])
 
     def test_aggregates(self):
-        self.alike(self.rows("select count(*), count(n), sum(n), min(n), max(n), min(w), max(w), min(b), max(b) from t"),
-                   [(4, 3, 4, 1, 2, "x", "y", False, True)])
+        text = "select count(*), count(n), sum(n), min(n), max(n), min(w), max(w), min(b), max(b) from t"
+        self.alike(self.rows(text), [(4, 3, 4, 1, 2, "x", "y", False, True)])
         self.alike(self.rows("select sum(n), count(n), min(n), max(n) from t where n is null"), [(None, 0, None, None)])
         self.alike(self.rows("select sum(null), min(null), count(null), count(1) from t"), [(None, None, 0, 4)])
         self.alike(self.rows("select sum(n * 2) + count(*), - max(n), sum(case when b then 1 else 0 end) from t"),
@@ -338,8 +331,7 @@ class Groups(Asking):
     def test_great_sums(self):
         most = GREAT - 1
         for values, total in (((most,), most), ((most, 1), None), ((most, 1, -1), most), ((-most,), -most),
-                              ((-most, -1), None),
-                              ((GREAT,), None), ((GREAT, -1), most), ((None, most), most)):
+                              ((-most, -1), None), ((GREAT,), None), ((GREAT, -1), most), ((None, most), most)):
             more = {"v": (["x"], ["integer"], [(value,) for value in values])}
             self.alike(self.values("select sum(x) from v", **more), [total])
         more = {"v": (["x"], ["integer"], [(GREAT,), (2 * GREAT,)])}
@@ -420,8 +412,8 @@ class Answers(Asking):
     def test_the_order_of_the_rows_of_sources_does_not_matter(self):
         chance = random.Random(77)
         for text in ("select * from t", "select w, count(*) from t group by w order by 2",
-                     "select id from t order by 1 desc limit 2",
-                     "select id, key from t join u on n = m", "select w from t union select key from u"):
+                     "select id from t order by 1 desc limit 2", "select id, key from t join u on n = m",
+                     "select w from t union select key from u"):
             expected = self.told(text)
             for turn in range(10):
                 sources = tables(t=(["id", "n", "w", "b"], ["text", "integer", "text", "boolean"], chance.sample(T, 4)),
@@ -444,7 +436,8 @@ class Answers(Asking):
 
 class Given(Asking):
     def test_nothing_is_changed(self):
-        tree = parse("select t.id, count(*) from t left join u on n = m and key <> $1 where n in (select m from u) group by t.id")
+        tree = parse("select t.id, count(*) from t left join u on n = m and key <> $1 where n in (select m from u) "
+                     "group by t.id")
         sources, parameters = tables(), ["z", None]
         before = (repr(tree), {name: repr(vars(sources[name])) for name in sources})
         answer(tree, sources, parameters)
@@ -454,8 +447,7 @@ class Given(Asking):
 
     def test_what_is_returned_is_not_shared(self):
         for text in ("select * from t", "select * from (select * from t) q",
-                     "select * from t union all select * from t",
-                     "select id from t limit 3", "select 1"):
+                     "select * from t union all select * from t", "select id from t limit 3", "select 1"):
             tree, sources = parse(text), tables()
             before = answer(tree, sources, [])
             names, rows = answer(tree, sources, [])
@@ -511,7 +503,8 @@ class Time(unittest.TestCase):
         self.assertEqual(self.many("select * from t join u on u.t = t.id"), 2000)
         self.assertEqual(self.many("select * from t left join u on t.id = u.t and m >= 500"), 2000)
         self.assertEqual(self.many("select n, count(*), sum(m) from t join u on u.t = t.id group by n"), 500)
-        self.assertEqual(self.many("select t.id from t join u on u.t = t.id join t x on x.id = u.t join u y on y.id = u.id"), 2000)
+        text = "select t.id from t join u on u.t = t.id join t x on x.id = u.t join u y on y.id = u.id"
+        self.assertEqual(self.many(text), 2000)
         self.assertEqual(self.many("select t.id from t join u on n + m < 30", 60), 4 * 465)
 
     def test_what_compares_2000_rows_with_each_other(self):
@@ -538,7 +531,7 @@ class Deep(unittest.TestCase):
     def select(self, item, sources=TABLE, where=None, group=None, having=None):
         return ("select", False, ((item, "c"),), sources, where, group, having)
 
-    def rows(self, query, times=1):
+    def rows(self, query):
         started = time.process_time()
         tree = ("question", query, ((1, False),), None)
         names, rows = answer(tree, self.SOURCES, [])
@@ -557,9 +550,9 @@ class Deep(unittest.TestCase):
                 (one, lambda part: ("binary", "+", one, part), 101), (true, lambda part: ("not", part), True),
                 (one, lambda part: ("case", true, part, one), 1), (true, lambda part: ("case", part, true, true), True),
                 (true, lambda part: ("binary", "and", part, true), True),
-                                   (true, lambda part: ("binary", "or", ("literal", None), part), True),
+                (true, lambda part: ("binary", "or", ("literal", None), part), True),
                 (true, lambda part: ("is_null", part, True), True),
-                                   (true, lambda part: ("in_list", part, (true, true), False), True),
+                (true, lambda part: ("in_list", part, (true, true), False), True),
                 (one, lambda part: ("binary", "-", part, one), -99)):
             self.assertEqual(repr(self.rows(self.select(self.grown(start, form), None))), repr([(value,)]))
 
@@ -599,8 +592,8 @@ class Deep(unittest.TestCase):
 
     def test_queries_that_differ_for_each_of_many_rows(self):
         sources = {"t": Source("t", ["n"], ["integer"], [(number,) for number in range(60)])}
-        forms = [lambda query, other: ("exists", query), lambda query,
-                 other: ("in_query", ("column", other, "n"), query, False)]
+        forms = [lambda query, other: ("exists", query),
+                 lambda query, other: ("in_query", ("column", other, "n"), query, False)]
         for form in forms:
             tree = self.TRUE
             for depth in range(100):
@@ -614,9 +607,8 @@ class Deep(unittest.TestCase):
 
     def test_queries_in_from_and_set_operators(self):
         select, one, table = self.select, self.select(self.ONE), self.TABLE
-        self.assertEqual(len(self.rows(self.grown(one,
-                                                  lambda query: select(("column", "q", "c"),
-                                                                       ("subquery", query, "q"))))), 3)
+        in_from = lambda query: select(("column", "q", "c"), ("subquery", query, "q"))
+        self.assertEqual(len(self.rows(self.grown(one, in_from))), 3)
         self.assertEqual(len(self.rows(self.grown(one, lambda query: ("set", "union all", query, one)))), 303)
         self.assertEqual(len(self.rows(self.grown(one, lambda query: ("set", "except", one, query)))), 1)
         sources = table

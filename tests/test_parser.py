@@ -104,8 +104,8 @@ class Primaries(Refusing):
             self.refused_at(text)
 
     def test_keywords_that_start_no_expression(self):
-        for word in ("from where group by having order limit as join left on union all except intersect and or is in when "
-                     "then else end mod desc").split():
+        for word in ("from where group by having order limit as join left on union all except intersect and or is in "
+                     "when then else end mod desc").split():
             self.refused("select " + word, 7)
             self.refused("select a + " + word + " b", 11)
             self.refused("select a." + word, 9)
@@ -172,8 +172,8 @@ class Operators(Refusing):
         self.assertEqual(expression("a is null is not null"), ("is_null", ("is_null", A, False), True))
         self.assertEqual(expression("-a is null"), ("is_null", ("negate", A), False))
         for text in ("select a is @", "select a is @b", "select a is not @", "select a is not @b", "select a is @true",
-                     "select a is not @not null", "select a is null @null",
-                     "select a is null @+ b", "select a is null @mod b", "select @is null"):
+                     "select a is not @not null", "select a is null @null", "select a is null @+ b",
+                     "select a is null @mod b", "select @is null"):
             self.refused_at(text)
 
     def test_in(self):
@@ -188,8 +188,8 @@ class Operators(Refusing):
         for text in ("select a in @", "select a in @b", "select a in (@)", "select a in (b@", "select a in (b,@)",
                      "select a in (b @c)", "select a in (select 1, @", "select a in (select 1@",
                      "select a in ((select 1) @union select 2)", "select a not @", "select a not @= b",
-                     "select a not in @b",
-                     "select a in (b) @+ c", "select a in (select 1) @* c", "select a in (b) @(c)"):
+                     "select a not in @b", "select a in (b) @+ c", "select a in (select 1) @* c",
+                     "select a in (b) @(c)"):
             self.refused_at(text)
 
     def test_several_one_behind_the_other(self):
@@ -229,17 +229,14 @@ class Queries(Refusing):
 
     def test_refused_selects(self):
         for text in ("@", "  @", "@a", "@1", "@'select'", "select distinct @", "select distinct @distinct a",
-                     "select a @distinct",
-                     "select a as @", "select a as @1", "select a as @count", "select a as b @c", "select a as b @as c",
-                     "select a,@", "select a from @", "select a from @1", "select a from @select 1",
-                     "select a from t @,u",
-                     "select a from t @as u", "select a from t u @v", "select a from t @. u",
-                     "select a where @", "select a where b @from t", "select a where b @where c", "select a group @a",
-                     "select a group by @", "select a group by a,@", "select a group by a @where b",
-                     "select a having @",
-                     "select a having b @group by c", "select a having b @having c", "select a from t @on a",
-                     "select * @as b",
-                     "select a @)", "select a @select b", "@from t", "select a from t where b @c"):
+                     "select a @distinct", "select a as @", "select a as @1", "select a as @count", "select a as b @c",
+                     "select a as b @as c", "select a,@", "select a from @", "select a from @1",
+                     "select a from @select 1", "select a from t @,u", "select a from t @as u", "select a from t u @v",
+                     "select a from t @. u", "select a where @", "select a where b @from t",
+                     "select a where b @where c", "select a group @a", "select a group by @", "select a group by a,@",
+                     "select a group by a @where b", "select a having @", "select a having b @group by c",
+                     "select a having b @having c", "select a from t @on a", "select * @as b", "select a @)",
+                     "select a @select b", "@from t", "select a from t where b @c"):
             self.refused_at(text)
 
     def test_sources(self):
@@ -247,7 +244,7 @@ class Queries(Refusing):
         for text, tree in (
                 ("t", t), ("t x", ("table", "t", "x")), ("(select 1) q", ("subquery", S1, "q")),
                 ("((select 1)) q", ("subquery", S1, "q")),
-                           ("(select 1 union select 2) q", ("subquery", ("set", "union", S1, S2), "q")),
+                ("(select 1 union select 2) q", ("subquery", ("set", "union", S1, S2), "q")),
                 ("((select 1) union select 2) q", ("subquery", ("set", "union", S1, S2), "q")),
                 ("t join u on a", ("join", t, u, A, False)), ("t left join u on a", ("join", t, u, A, True)),
                 ("t x join u y on a = b", ("join", ("table", "t", "x"), ("table", "u", "y"), binary("=", A, B), False)),
@@ -284,12 +281,10 @@ class Queries(Refusing):
 
     def test_refused_set_operators(self):
         for text in ("select 1 union@", "select 1 union all@", "select 1 union all @all select 2",
-                     "select 1 except @all select 2",
-                     "select 1 union @distinct select 2", "select 1 union @a", "select 1 union (@a)",
-                     "select 1 union (select 2@",
-                     "(select 1@", "(@", "((@)", "(select 1) @+ 2", "(select 1) @a", "(select 1) @select 2",
-                     "@union select 1",
-                     "(select 1 union (select 2)@", "select 1 union select 2 @)", "(select 1) @, (select 2)", "(@)"):
+                     "select 1 except @all select 2", "select 1 union @distinct select 2", "select 1 union @a",
+                     "select 1 union (@a)", "select 1 union (select 2@", "(select 1@", "(@", "((@)", "(select 1) @+ 2",
+                     "(select 1) @a", "(select 1) @select 2", "@union select 1", "(select 1 union (select 2)@",
+                     "select 1 union select 2 @)", "(select 1) @, (select 2)", "(@)"):
             self.refused_at(text)
 
     def test_order_and_limit(self):
@@ -297,7 +292,7 @@ class Queries(Refusing):
                 ("order by a", (("a", False),), None), ("order by a desc", (("a", True),), None),
                 ("order by 1, a desc, 007", ((1, False), ("a", True), (7, False)), None), ("limit 0", (), 0),
                 ("limit 007", (), 7), ("order by 0 limit 5", ((0, False),), 5),
-                                   ("order by a, a desc", (("a", False), ("a", True)), None)):
+                ("order by a, a desc", (("a", False), ("a", True)), None)):
             self.assertEqual(parse("select 1 " + text), ("question", S1, order, limit))
             self.assertEqual(parse(f"(select 1) {text}"), ("question", S1, order, limit))
             self.assertEqual(parse(f"select 1 union select 2 {text}"),
@@ -305,13 +300,11 @@ class Queries(Refusing):
 
     def test_refused_order_and_limit(self):
         for text in ("order@", "order @a", "order by@", "order by @'a'", "order by @$1", "order by a@.b",
-                     "order by a @asc",
-                     "order by a,@", "order by a @b", "order by a desc @desc", "order by @-1", "order by a@+ b",
-                     "limit@", "limit @a",
-                     "limit @$1", "limit @-1", "limit 1 @2", "limit 1@, 2", "limit 1 @order by a", "limit 1 @limit 1",
-                     "order by @(a)",
-                     "order by a limit 1 @)", "order by @count", "order by @desc", "order by a @union select 2",
-                     "limit 1 @union select 2", "order by a @where b"):
+                     "order by a @asc", "order by a,@", "order by a @b", "order by a desc @desc", "order by @-1",
+                     "order by a@+ b", "limit@", "limit @a", "limit @$1", "limit @-1", "limit 1 @2", "limit 1@, 2",
+                     "limit 1 @order by a", "limit 1 @limit 1", "order by @(a)", "order by a limit 1 @)",
+                     "order by @count", "order by @desc", "order by a @union select 2", "limit 1 @union select 2",
+                     "order by a @where b"):
             self.refused_at("select 1 " + text)
 
     def test_not_in_inner_queries(self):
@@ -388,8 +381,8 @@ class Limits(Refusing):
 
     def test_each_thing_at_depth_12(self):
         for text in ("@(a)", "@not a", "@-a", "@case when a", "count@(*)", "count@(a)", "sum@(a)", "max@(a)", "min@(a)",
-                     "exists @(select 1)", "a in @(b)", "a not in @(b)", "a in @(select 1)",
-                     "@(select 1)", "a + @-b", "a and @not b", "a and @-b"):
+                     "exists @(select 1)", "a in @(b)", "a not in @(b)", "a in @(select 1)", "@(select 1)", "a + @-b",
+                     "a and @not b", "a and @-b"):
             self.refused_at("select " + "(" * 12 + text)
             inside = text.replace("@", "")
             with self.assertRaises(RefusedText):

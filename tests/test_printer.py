@@ -83,8 +83,8 @@ class Printing(Checking):
                 self.expression(outer(inner(B)))
 
     def test_each_three_operators(self):
-        some = [form for name,
-                form in forms() if name.split()[0] in ("or", "and", "=", "-", "*", "not", "negate", "is")]
+        words = ("or", "and", "=", "-", "*", "not", "negate", "is")
+        some = [form for name, form in forms() if name.split()[0] in words]
         for one, two, three in itertools.product(some, repeat=3):
             self.expression(one(two(three(B))))
 
@@ -97,29 +97,26 @@ class Printing(Checking):
                      "(not a) = b", "a = (not b)", "a = (b = c)", "a = b = c", "- (a + b)", "- a + b", "- - a",
                      "(a is null) + b", "a + b is null", "a is null is not null", "a = b is null", "a = (b is null)",
                      "a in (b) in (c)", "a in (b in (c))", "a in ((select a))", "a in (select a)",
-                     "a not in (b or c, c)",
-                     "a * (b / c)", "a * b / c", "case when a or b then not c else - a end", "count(*)", "sum(a + b)",
-                     "exists (select a)", "(select a)", "(select a) + b", "- (select a)", "t.a || $12", "'it''s'",
-                     "null",
-                     "true", "false", "120", "''", "(a < b) || c", "(a is null) * b", "a in ((select a) + b)"):
+                     "a not in (b or c, c)", "a * (b / c)", "a * b / c", "case when a or b then not c else - a end",
+                     "count(*)", "sum(a + b)", "exists (select a)", "(select a)", "(select a) + b", "- (select a)",
+                     "t.a || $12", "'it''s'", "null", "true", "false", "120", "''", "(a < b) || c", "(a is null) * b",
+                     "a in ((select a) + b)"):
             self.assertEqual(self.expression(parse("select " + text)[1][2][0][0]), text)
 
     def test_queries(self):
         for text in ("select *", "select distinct *", "select a as x, b", "select distinct a", "select * from t",
                      "select a from t x", "select a from (select b) q", "select a from (select b union select c) q",
                      "select a from t join u on a = b",
-                     "select a from t left join (select b) q on a or b join u x on c",
-                     "select a where b", "select a from t where b group by a, t.b having c",
-                     "select a union select b", "select a union all select b",
-                     "select a except select b intersect select c",
+                     "select a from t left join (select b) q on a or b join u x on c", "select a where b",
+                     "select a from t where b group by a, t.b having c", "select a union select b",
+                     "select a union all select b", "select a except select b intersect select c",
                      "select a except (select b intersect select c)",
                      "select a union all (select b union all select c)",
-                     "select a union (select b union (select c union select a)) union select b",
-                     "select a order by 1", "select a order by a desc, 2, b", "select a limit 0",
-                     "select a order by 7 desc limit 12",
+                     "select a union (select b union (select c union select a)) union select b", "select a order by 1",
+                     "select a order by a desc, 2, b", "select a limit 0", "select a order by 7 desc limit 12",
                      "select a from t union select b from u order by 1 limit 2",
-                     "select exists (select a union select b)",
-                     "select a in (select a union select b)", "select (select a except select b)"):
+                     "select exists (select a union select b)", "select a in (select a union select b)",
+                     "select (select a except select b)"):
             tree = parse(text)
             self.assertEqual(self.check(tree), text)
 
@@ -167,8 +164,8 @@ class Printing(Checking):
 class Limits(Checking):
     def test_120_tokens_and_depth_12(self):
         for text in ("select a" + ", a" * 59, "select " + "a - (" * 12 + "a - b" + ")" * 12,
-                     "select " + "- (a + " * 6 + "a" + ")" * 6,
-                     "select " + "not " * 12 + "a", "select " + "(select " * 12 + "a" + ")" * 12):
+                     "select " + "- (a + " * 6 + "a" + ")" * 6, "select " + "not " * 12 + "a",
+                     "select " + "(select " * 12 + "a" + ")" * 12):
             self.assertEqual(self.check(parse(text)), text)
 
     def test_100_deep(self):
@@ -192,7 +189,7 @@ class Random(Checking):
         for turn in range(1500):
             tree = Maker(chance, some_sources(chance), [1, "x"]).question()
             text = write_question(tree)
-            if len(tokenize(text)) <= 120 and text.count("(") + text.count("not ") + text.count("case") + text.count("- ") <= 12:
+            if len(tokenize(text)) <= 120 and sum([text.count(word) for word in ("(", "not ", "case", "- ")]) <= 12:
                 self.check(tree)
                 read += 1
         self.assertGreater(read, 800)

@@ -7,8 +7,7 @@ from kithbase.values import arithmetic, compare, conjunction, disjunction, negat
 
 GREAT = 10 ** 40
 ORDERED = [None, False, True, -10 ** 45, -GREAT, -2, -1, 0, 1, 2, 10, GREAT - 1, GREAT, 10 ** 45, "", "\n", " ", "'",
-           "0",
-           "10", "2", "A", "a", "aa", "ab", "b", "~"]
+           "0", "10", "2", "A", "a", "aa", "ab", "b", "~"]
 TRUTHS = (True, False, None)
 
 
@@ -67,11 +66,9 @@ class Arithmetic(unittest.TestCase):
 
     def test_signs_of_quotients_and_remainders(self):
         for first, second, quotient, rest in ((7, 2, 3, 1), (-7, 2, -3, -1), (7, -2, -3, 1), (-7, -2, 3, -1),
-                                              (6, 3, 2, 0),
-                                              (-6, 3, -2, 0), (6, -3, -2, 0), (-6, -3, 2, 0), (0, 5, 0, 0),
-                                              (0, -5, 0, 0),
-                                              (1, 2, 0, 1), (-1, 2, 0, -1), (1, -2, 0, 1), (-1, -2, 0, -1),
-                                              (5, 1, 5, 0)):
+                                              (6, 3, 2, 0), (-6, 3, -2, 0), (6, -3, -2, 0), (-6, -3, 2, 0),
+                                              (0, 5, 0, 0), (0, -5, 0, 0), (1, 2, 0, 1), (-1, 2, 0, -1), (1, -2, 0, 1),
+                                              (-1, -2, 0, -1), (5, 1, 5, 0)):
             self.assertEqual(arithmetic("/", first, second), quotient, (first, second))
             self.assertEqual(arithmetic("mod", first, second), rest, (first, second))
 

@@ -18,8 +18,9 @@ SETUP = [("table", "t"), ("table", "u"), ("column", T, "n", "integer"), ("column
 
 
 def columns_of(table):
-    return {"n": NUMBER, "w": WORD, "b": TRUTH, "rt": TO_T, "ru": TO_U,
-            "rt2": ALSO_TO_T} if table == T else {"rt": OF_U}
+    if table == U:
+        return {"rt": OF_U}
+    return {"n": NUMBER, "w": WORD, "b": TRUTH, "rt": TO_T, "ru": TO_U, "rt2": ALSO_TO_T}
 
 
 class Office:
