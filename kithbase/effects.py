@@ -44,11 +44,18 @@ def _may_refer(ground, seals, spot, table, target):
     return not any(is_closed_for(ground.store, seals, change, drop[:2]) for drop in ground.drops.get(target, []))
 
 
-def sums_by_cell(ground, kept):
-    """Returns a dict with the sum of each counter to which something was added, or of which a sum is kept."""
-    sums = {cell: total for cell, total in kept}
+def adds_by_cell(ground):
+    """Returns a dict with the list of the spots of the acts that add to each cell."""
+    adds = {}
     for spot, act in ground.acts:
         if act[0] == "add" and _is_for_cell(ground, spot, act[1], act[2]):
-            cell = (act[1], act[2])
-            sums[cell] = sums.get(cell, 0) + act[3]
+            adds.setdefault((act[1], act[2]), []).append(spot)
+    return adds
+
+
+def sums_by_cell(ground, adds, kept):
+    """Returns a dict with the sum of each counter to which something was added, or of which a sum is kept."""
+    sums = {cell: total for cell, total in kept}
+    for cell in adds:
+        sums[cell] = sums.get(cell, 0) + sum([ground.act[spot][3] for spot in adds[cell]])
     return sums

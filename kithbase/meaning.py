@@ -46,13 +46,13 @@ def _select(around, tree):
     _, distinct, items, sources, where, group, having = tree
     columns, source_rows = _from(around, sources)
     scope = Scope(around.setting, around, columns)
-    where_holds = constant(True) if where is None else _expression(scope, where)
+    where_holds = constant(True) if where is None else function_of(scope, where)
     names = [name for source, name in columns] if items is None else []
     shown = [reading(scope.depth, index) for index in range(len(names))]
     for expression, name in items or ():
         names.append(column_name(expression, name))
-        shown.append(_expression(scope, expression))
-    having_holds = constant(True) if having is None else _expression(scope, having)
+        shown.append(function_of(scope, expression))
+    having_holds = constant(True) if having is None else function_of(scope, having)
     indexes = None if group is None else [find_column(scope, key[1], key[2])[1] for key in group]
     groups = makes_groups(tree)
 
@@ -137,8 +137,14 @@ def _subquery(around, tree):
 def _join(around, tree):
     """Returns the columns of a join, and its function."""
     plan_left, plan_right = SOURCES[tree[1][0]], SOURCES[tree[2][0]]
-    left, left_rows = plan_left(around, tree[1])
-    right, right_rows = plan_right(around, tree[2])
+    first_side = plan_left(around, tree[1])
+    return join_of(around, tree, first_side, plan_right(around, tree[2]))
+
+
+def join_of(around, tree, first_side, second_side):
+    """Returns the columns of a join, and its function, given those of its two sides."""
+    left, left_rows = first_side
+    right, right_rows = second_side
     scope = Scope(around.setting, around, left + right)
     parts, first_key, second_key = _condition(scope, tree[3], len(left))
     depth, outer = scope.depth, tree[4]
@@ -186,7 +192,7 @@ def _condition(scope, condition, width):
     for part in conjuncts(condition):
         if part[0] == "binary" and part[1] == "=":
             one, two = _within(scope), _within(scope)
-            functions = [_expression(one, part[2]), _expression(two, part[3])]
+            functions = [function_of(one, part[2]), function_of(two, part[3])]
             parts.append(formula(part, functions))
             sides = (_side_of(one, scope.depth, width), _side_of(two, scope.depth, width))
             if sides == ("left", "right"):
@@ -194,7 +200,7 @@ def _condition(scope, condition, width):
             if sides == ("right", "left"):
                 keys = (functions[1], functions[0])
         else:
-            parts.append(_expression(scope, part))
+            parts.append(function_of(scope, part))
     return (parts, keys[0], keys[1])
 
 
@@ -204,11 +210,11 @@ def _side_of(inner, depth, width):
     return sides[0] if sides and sides.count(sides[0]) == len(sides) else "both"
 
 
-def _expression(scope, tree):
-    """Returns the function of an expression."""
+def function_of(scope, tree):
+    """Returns the function of an expression, whose columns are those of the scope and of those around it."""
     functions = []
     for operand in operands_of(tree):
-        functions.append(_expression(scope, operand))
+        functions.append(function_of(scope, operand))
     if tree[0] in LEAVES:
         make = LEAVES[tree[0]]
         return make(scope, tree, functions)

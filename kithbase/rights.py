@@ -189,15 +189,21 @@ def may_read(store, allowed, member, space):
     """True if the member may read the space."""
     if member == 0:
         return True
-    revoked = _revoked(store, allowed)
-    for capability in capabilities_of(store):
+    for capability in held_capabilities(store, allowed):
         parent, holder, rights = _told_of(store, capability)
-        if holder == member and rights[space][0] and _is_still_held(store, allowed, revoked, capability):
+        if holder == member and rights[space][0]:
             return True
     return False
 
 
-def capabilities_of(store):
+def held_capabilities(store, allowed):
+    """Returns the list of all capabilities but None that are held."""
+    revoked = _revoked(store, allowed)
+    return [capability for capability in _capabilities_of(store)
+            if _is_still_held(store, allowed, revoked, capability)]
+
+
+def _capabilities_of(store):
     """Returns the list of all capabilities but None that are kept or granted by a change in the store."""
     found = [entry[0] for entry in store.capabilities]
     for change in store.all_changes():

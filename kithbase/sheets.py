@@ -1,7 +1,7 @@
 """What the effective acts of a space make: tables, columns, rules, rows and the values of cells."""
 
 from kithbase.cells import shown_writes
-from kithbase.effects import is_cell, sums_by_cell, writes_by_cell
+from kithbase.effects import adds_by_cell, is_cell, sums_by_cell, writes_by_cell
 from kithbase.letters import Lettering, lettered_cells, text_in
 from kithbase.making import Ground, by_table, live_rows, rules_made
 from kithbase.rights import allowed_seals
@@ -29,7 +29,8 @@ class Sheet:
         self._rows = ground.rows
         self._writes = writes
         self._shown = {cell: shown_writes(store, allowed, writes[cell]) for cell in writes}
-        self._sums = sums_by_cell(ground, _kept_sums(store, space))
+        self._adds = adds_by_cell(ground)
+        self._sums = sums_by_cell(ground, self._adds, _kept_sums(store, space))
         self._texts = _texts_by_cell(ground, Lettering(store, allowed, space))
 
     def act_of(self, spot):
@@ -50,12 +51,20 @@ class Sheet:
 
     def shown(self, row, column):
         """Returns the list of the values, or references, that show in the cell."""
-        return [self._act[spot][3] for spot in self._shown.get((row, column), [])]
+        return [self._act[spot][3] for spot in self.shown_spots(row, column)]
+
+    def shown_spots(self, row, column):
+        """Returns the list of the spots of the writes that show in the cell."""
+        return list(self._shown.get((row, column), []))
 
     def counted(self, row, column):
         """Returns the spot of the write that counts, or None."""
-        shown = self._shown.get((row, column), [])
+        shown = self.shown_spots(row, column)
         return shown[-1] if shown else None
+
+    def added(self, row, column):
+        """Returns the list of the spots of the acts that add to the counter of the cell."""
+        return list(self._adds.get((row, column), [])) if self.holds(column) == "counter" else []
 
     def entry(self, row, column):
         """Returns the value of the cell."""

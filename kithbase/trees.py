@@ -68,6 +68,17 @@ def query_of(expression):
     return expression[2] if expression[0] == "in_query" else None
 
 
+def has_query(expression):
+    """True if there is a query in the expression."""
+    rest = [expression]
+    while rest:
+        part = rest.pop()
+        if query_of(part) is not None:
+            return True
+        rest.extend(operands_of(part))
+    return False
+
+
 def conjuncts(condition):
     """Returns the list of the conditions that are joined by `and`."""
     found = []
