@@ -1,4 +1,4 @@
-"""A second, slow reading of points 70 to 77, and random questions to compare it with the program.
+"""A second, slow reading of points 70 to 77, 82 and 83, and random questions to compare it with the program.
 
 What a question means is told here as plainly as the document tells it: nothing is remembered, and everything is looked
 for again in each row. This uses nothing of the program but its sources.
@@ -260,14 +260,58 @@ class Oracle:
         rows = sorted(self.rows(tree[1], []), key=functools.cmp_to_key(order))
         return (names, rows if tree[3] is None else rows[:tree[3]])
 
+    def has_reasons(self, query):
+        """Tells whether the query has one of the forms of point 82."""
+        if query[0] == "set":
+            return query[1].startswith("union") and self.has_reasons(query[2]) and self.has_reasons(query[3])
+        word, distinct, items, sources, where, group, having = query
+        trees = [tree for tree, name in items or ()] + [where] * (where is not None)
+        if group is not None or having is not None or self.aggregates(trees) or has_inner_query(trees):
+            return False
+        return sources is None or self.have_reasons(sources)
+
+    def have_reasons(self, tree):
+        if tree[0] == "join":
+            return not tree[4] and not has_inner_query([tree[3]]) and all(map(self.have_reasons, tree[1:3]))
+        return tree[0] == "table" or self.has_reasons(tree[1])
+
+    def entries(self, query):
+        """Makes the entries of point 83."""
+        if query[0] == "set":
+            return self.entries(query[2]) + self.entries(query[3])
+        word, distinct, items, sources, where, group, having = query
+        columns, made = [] if sources is None else self.columns(sources), []
+        for row, way in [((), ())] if sources is None else self.source_entries(sources):
+            frames = [Frame(columns, row)]
+            if where is None or self.value(where, frames) is True:
+                made.append((row if items is None else tuple(self.value(tree, frames) for tree, name in items), way))
+        return made
+
+    def source_entries(self, tree):
+        if tree[0] == "table":
+            return [(row, ((tree[1], row[0]),)) for row in self.sources[tree[1]].rows]
+        if tree[0] == "subquery":
+            return self.entries(tree[1])
+        columns = self.columns(tree)
+        return [(one + two, way + other) for one, way in self.source_entries(tree[1])
+                for two, other in self.source_entries(tree[2])
+                if self.value(tree[3], [Frame(columns, one + two)]) is True]
+
+
+def has_inner_query(part):
+    """Tells whether there is a query anywhere in a list of expressions."""
+    if not isinstance(part, (list, tuple)):
+        return False
+    return part[:1] in (("select",), ("set",)) or any(has_inner_query(inner) for inner in part)
+
 
 class Maker:
-    """Makes random questions, most of which pass the check."""
+    """Makes random questions, most of which pass the check; plain ones have one of the forms of point 82."""
 
     KINDS = ("integer", "text", "boolean")
 
-    def __init__(self, chance, sources, parameters):
-        self.chance, self.sources, self.parameters = chance, sources, parameters
+    def __init__(self, chance, sources, parameters, plain=False):
+        self.chance, self.sources, self.parameters, self.plain = chance, sources, parameters, plain
 
     def maybe(self, share):
         return self.chance.random() < share
@@ -286,7 +330,7 @@ class Maker:
         if self.maybe(0.25):
             first, columns = self.select(around, room - 1, kinds)
             second, others = self.query(around, room - 2, many, kinds)
-            word = self.chance.choice(("union all", "union", "except", "intersect"))
+            word = self.chance.choice(("union all", "union") + ("except", "intersect") * (not self.plain))
             return ("set", word, first, second), columns
         return self.select(around, room, kinds)
 
@@ -296,7 +340,7 @@ class Maker:
         frames = [frame] + around
         where = self.expression("boolean", frames, room - 1, False) if self.maybe(0.4) else None
         group = None
-        aggregates = self.maybe(0.35)
+        aggregates = self.maybe(0.35) and not self.plain
         if aggregates:
             frame["free"] = False
             frame["grouped"] = []
@@ -327,7 +371,7 @@ class Maker:
             if tree is None:
                 tree = part
             else:
-                tree = ("join", tree, part, self.on(columns, around, room), self.maybe(0.5))
+                tree = ("join", tree, part, self.on(columns, around, room), self.maybe(0.5) and not self.plain)
         return tree, columns
 
     def on(self, columns, around, room):
@@ -353,7 +397,7 @@ class Maker:
             return ("case", self.expression("boolean", frames, room - 1, aggregates),
                     self.expression(kind, frames, room - 1, aggregates),
                     self.expression(kind, frames, room - 1, aggregates))
-        if self.maybe(0.15):
+        if self.maybe(0.15) and not self.plain:
             return self.scalar(kind, frames, room)
         if kind == "integer":
             if told:
@@ -368,6 +412,8 @@ class Maker:
 
     def truth(self, frames, room, aggregates):
         way = self.chance.randrange(8)
+        if self.plain and way in (4, 5):
+            way = 3
         kind = self.chance.choice(self.KINDS)
         some = self.expression(kind, frames, room, aggregates)
         if way < 2:

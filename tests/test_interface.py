@@ -37,6 +37,18 @@ FUNCTIONS = {
     "live": {
         "came": ["old", "new"], "went": ["old", "new"], "change_of": ["old", "new"],
         "join_change": ["old_left", "new_left", "old_right", "new_right", "condition"]},
+    "why": {
+        "entries": ["query", "sources", "parameters"], "ways": ["tree", "sources", "parameters", "row"],
+        "rests_on": ["store", "allowed", "source", "row"]},
+    "spaces": {"shown_to": ["store", "member"], "agree": ["first", "second"], "joined": ["first", "second"]},
+    "cutting": {
+        "last_seal": ["store"], "before_seal": ["store", "seal"], "kept_capabilities": ["store"],
+        "kept_of": ["store", "space"], "cut_at": ["store", "seal"], "is_known": ["store", "space"],
+        "is_known_to": ["store", "space", "seal"]},
+    "codes": {
+        "write_number": ["number"], "write_integer": ["number"], "write_string": ["text"], "write_value": ["value"],
+        "write_act": ["act"], "write_change": ["change"], "write_kept": ["kept"], "write_capability": ["entry"],
+        "write_store": ["store"]},
 }
 CLASSES = {
     "changes": {"Change": (["author", "number", "heard", "capability", "publics", "parts"], {
