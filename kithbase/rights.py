@@ -1,6 +1,7 @@
 """Capabilities, and which changes are allowed."""
 
 from kithbase.changes import in_order, in_past
+from kithbase.store import SPACES
 
 ALL_RIGHTS = ((True, True, True), (True, True, True), (True, True, True), (True, True, True))
 
@@ -187,13 +188,18 @@ def _revoked(store, allowed):
 
 def may_read(store, allowed, member, space):
     """True if the member may read the space."""
-    if member == 0:
-        return True
-    for capability in held_capabilities(store, allowed):
-        parent, holder, rights = _told_of(store, capability)
-        if holder == member and rights[space][0]:
-            return True
-    return False
+    return readable_spaces(store, allowed, member)[space]
+
+
+def readable_spaces(store, allowed, member):
+    """Returns a list that tells for each space whether the member may read it."""
+    readable = [member == 0] * SPACES
+    if member != 0:
+        for capability in held_capabilities(store, allowed):
+            parent, holder, rights = _told_of(store, capability)
+            if holder == member:
+                readable = [may or triple[0] for may, triple in zip(readable, rights)]
+    return readable
 
 
 def held_capabilities(store, allowed):

@@ -1,14 +1,12 @@
 """What is shown of a store, stores that agree, and stores that are joined."""
 
 from kithbase.changes import frozen
-from kithbase.rights import may_read, verdicts
-from kithbase.store import SPACES
+from kithbase.rights import readable_spaces, verdicts
 
 
 def shown_to(store, member):
     """Returns a new store: what is shown of the store to the member."""
-    allowed = verdicts(store)
-    readable = [may_read(store, allowed, member, space) for space in range(SPACES)]
+    readable = readable_spaces(store, verdicts(store), member)
     shown = store.copy()
     shown.kept = _only(shown.kept, readable)
     shown.changes = [[change.with_parts(_only(change.parts, readable)) for change in line] for line in shown.changes]

@@ -84,6 +84,17 @@ def _copy_of_change(change):
     return change.with_parts(change.parts)
 
 
+def with_next(store, change):
+    """Returns a new store with one more change, which shares all the others with the store."""
+    other = Store(store.members)
+    other.cut = list(store.cut)
+    other.capabilities = list(store.capabilities)
+    other.kept = list(store.kept)
+    other.changes = [list(line) for line in store.changes]
+    other.add(change)
+    return other
+
+
 def is_cut_away(store, name):
     """True if the change with this name is cut away."""
     author, number = name
@@ -92,16 +103,16 @@ def is_cut_away(store, name):
 
 def is_whole(store):
     """True if the store is whole: everything that its changes had heard of is there."""
-    changes = store.all_changes()
+    changes = [change for line in store.changes for change in line]
     # The other conditions compare the entries of members, so they need all entries to be there.
     if any(len(change.heard) != store.members for change in changes):
         return False
-    return all(_is_grounded(store, change) for change in changes)
+    return all(goes_on(store, change) for change in changes)
 
 
-def _is_grounded(store, change):
+def goes_on(store, change):
     """True if what the change had heard fits its own number and the other changes of the store."""
-    if change.heard[change.author] != change.number - 1:
+    if len(change.heard) != store.members or change.heard[change.author] != change.number - 1:
         return False
     for member in range(store.members):
         if change.heard[member] > store.count(member):

@@ -9,7 +9,7 @@ import unittest
 
 PACKAGE = pathlib.Path(__file__).resolve().parent.parent / "kithbase"
 FILES = sorted(PACKAGE.rglob("*.py"))
-STATEMENTS = (ast.Import, ast.Global, ast.AsyncFunctionDef, ast.AsyncFor, ast.AsyncWith, ast.Await, ast.Try, ast.Yield,
+STATEMENTS = (ast.Import, ast.Global, ast.AsyncFunctionDef, ast.AsyncFor, ast.AsyncWith, ast.Await, ast.Yield,
               ast.YieldFrom, ast.With, ast.Set, ast.SetComp, ast.AnnAssign, ast.Match)
 LIBRARY = ("heapq", "math", "itertools", "collections")
 BUILTINS = set("""len range enumerate zip min max sum abs sorted reversed int str bool list tuple dict isinstance ord
@@ -112,6 +112,25 @@ class Files(unittest.TestCase):
             self.assertEqual(nodes(path, *STATEMENTS), [], path)
             for node in nodes(path, ast.FunctionDef, ast.ClassDef):
                 self.assertEqual(node.decorator_list, [], path)
+
+    def test_only_own_errors_are_caught(self):
+        for path in FILES:
+            own = defined(PACKAGE / "errors.py")
+            for node in nodes(path, ast.Try):
+                self.assertEqual((node.orelse, node.finalbody), ([], []), path)
+                for handler in node.handlers:
+                    self.assertIsNone(handler.name, path)
+                    named = handler.type.elts if isinstance(handler.type, ast.Tuple) else [handler.type]
+                    for error in named:
+                        self.assertIn(error.id, own, path)
+
+    def test_errors_are_made_on_the_spot(self):
+        for path in FILES:
+            own = defined(PACKAGE / "errors.py")
+            for node in nodes(path, ast.Raise):
+                self.assertIsInstance(node.exc, ast.Call, path)
+                self.assertIn(node.exc.func.id, own, path)
+                self.assertIsNone(node.cause, path)
 
     def test_the_module_level_has_no_code(self):
         allowed = (ast.Expr, ast.ImportFrom, ast.FunctionDef, ast.ClassDef, ast.Assign)
