@@ -98,13 +98,13 @@ class Network:
             if given is not None:
                 self.check_packet(first, second, given)
                 self.packets.append(given)
-                if self.chance.random() < 0.7:
+                if self.chance.random() < 0.5:
                     self.do(first, "take", given)
 
     def take(self):
         """A packet that is on its way is taken by any replica."""
         if self.packets:
-            packet = self.chance.choice(self.packets)
+            packet = self.chance.choice(self.packets[-self.chance.choice([2, 5, 1000]):])
             before = list(packet)
             try:
                 self.do(self.chance.randrange(self.members), "take", packet)
@@ -120,7 +120,7 @@ class Network:
             pass
 
     def step(self):
-        getattr(self, self.chance.choice(["act"] * 10 + ["ask"] * 10 + ["take"] * 3 + ["trim"]))()
+        getattr(self, self.chance.choice(["act"] * 10 + ["ask"] * 9 + ["take"] * 6 + ["trim"]))()
 
     def check_packet(self, asker, giver, packet):
         """Part 4: there is nothing of a space in it that the one who asked could not read."""

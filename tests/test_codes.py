@@ -20,7 +20,8 @@ IN_A, IN_B, IN_C = [1, 2, 3], [0, 172, 2, 0], [5, 1, 128, 1]
 class Numbers(unittest.TestCase):
     def test_natural_numbers(self):
         for number, data in [(0, [0]), (1, [1]), (127, [127]), (128, [128, 1]), (129, [129, 1]), (255, [255, 1]),
-                             (300, [172, 2]), (16383, [255, 127]), (16384, [128, 128, 1]), (2 ** 21, [128, 128, 128, 1])]:
+                             (300, [172, 2]), (16383, [255, 127]), (16384, [128, 128, 1]),
+                             (2 ** 21, [128, 128, 128, 1])]:
             self.assertEqual(write_number(number), data)
 
     def test_great_numbers(self):
@@ -33,7 +34,8 @@ class Numbers(unittest.TestCase):
             self.assertEqual(write_integer(-number), [1] + data)
 
     def test_integers(self):
-        for number, data in [(0, [0, 0]), (5, [0, 5]), (-5, [1, 5]), (300, [0, 172, 2]), (-300, [1, 172, 2]), (-1, [1, 1])]:
+        for number, data in [(0, [0, 0]), (5, [0, 5]), (-5, [1, 5]), (300, [0, 172, 2]), (-300, [1, 172, 2]),
+                             (-1, [1, 1])]:
             self.assertEqual(write_integer(number), data)
 
 
@@ -47,7 +49,8 @@ class Strings(unittest.TestCase):
 
 class WrittenValues(unittest.TestCase):
     def test_each_kind(self):
-        for value, data in [(None, [0]), (False, [1, 0]), (True, [1, 1]), (0, [2, 0, 0]), (1, [2, 0, 1]), (-1, [2, 1, 1]),
+        for value, data in [(None, [0]), (False, [1, 0]), (True, [1, 1]), (0, [2, 0, 0]), (1, [2, 0, 1]),
+                            (-1, [2, 1, 1]),
                             ("", [3, 0]), ("1", [3, 1, 49]), (10 ** 40, [2, 0] + write_number(10 ** 40))]:
             self.assertEqual(write_value(value), data)
 
@@ -87,12 +90,14 @@ class Changes(unittest.TestCase):
     def test_unknown_and_empty_parts(self):
         start = [0, 1, 1, 0, 0, 0]
         for parts, data in [((None,) * 4, [0] * 4), (((), None, (), None), [1, 0, 0, 1, 0, 0]),
-                            ((None, (("row", A), ("undo", (0, 1))), (), None), [0, 1, 2, 3] + IN_A + [10, 0, 1, 1, 0, 0])]:
+                            ((None, (("row", A), ("undo", (0, 1))), (), None),
+                             [0, 1, 2, 3] + IN_A + [10, 0, 1, 1, 0, 0])]:
             self.assertEqual(write_change(Change(0, 1, (0,), None, (), parts)), start + data)
 
 
 class Stores(unittest.TestCase):
-    KEPT = Kept([(A, ("row", B)), (B, ("table", "t"))], [((A, B), -300)], [((A, C), [((1, 2, 3, 4), "a"), ((0, 1, 0, 0), "\n")])])
+    KEPT = Kept([(A, ("row", B)), (B, ("table", "t"))], [((A, B), -300)], [((A, C), [((1, 2, 3, 4), "a"), ((0, 1, 0, 0),
+                                                                                                           "\n")])])
     BYTES = ([2] + IN_A + [3] + IN_B + IN_B + [0, 1, 116] + [1] + IN_A + IN_B + [1, 172, 2]
              + [1] + IN_A + IN_C + [2, 1, 2, 3, 4, 97, 0, 1, 0, 0, 10])
 

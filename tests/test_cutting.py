@@ -172,7 +172,8 @@ class KeptActs(unittest.TestCase):
 
     def test_what_makes_nothing(self):
         store = office()
-        say(store, 0, [("column", (0, 9, 0), "x", "integer"), ("row", (0, 9, 0)), ("row", ROW), ("column", ROW, "x", "text")])
+        say(store, 0, [("column", (0, 9, 0), "x", "integer"), ("row", (0, 9, 0)), ("row", ROW),
+                       ("column", ROW, "x", "text")])
         self.assertEqual(kept(store)[0], SPOTS)
 
     def test_tables_that_do_not_hold_their_names(self):
@@ -262,7 +263,8 @@ class KeptSums(unittest.TestCase):
         make(store, 0, [("table", "b"), ("table", "a"), ("row", (0, 1, 1)), ("row", (0, 1, 0)), ("row", (0, 1, 1)),
                         ("column", (0, 1, 1), "z", "counter"), ("column", (0, 1, 1), "a", "counter"),
                         ("column", (0, 1, 0), "x", "counter")])
-        make(store, 0, [("add", (0, 1, 4), (0, 1, 6), 1), ("add", (0, 1, 4), (0, 1, 5), 2), ("add", (0, 1, 2), (0, 1, 6), 3),
+        make(store, 0, [("add", (0, 1, 4), (0, 1, 6), 1), ("add", (0, 1, 4), (0, 1, 5), 2),
+                        ("add", (0, 1, 2), (0, 1, 6), 3),
                         ("add", (0, 1, 3), (0, 1, 7), 4)])
         self.assertEqual(kept(store)[1], [(((0, 1, 3), (0, 1, 7)), 4), (((0, 1, 2), (0, 1, 6)), 3),
                                           (((0, 1, 4), (0, 1, 5)), 2), (((0, 1, 4), (0, 1, 6)), 1)])
@@ -285,7 +287,8 @@ class KeptTexts(unittest.TestCase):
 
     def test_nothing_shows(self):
         store = office()
-        say(store, 0, [("insert", ROW, LETTERS, None, "a"), ("remove", (0, 3, 0, 0)), ("insert", OTHER, LETTERS, None, "")])
+        say(store, 0, [("insert", ROW, LETTERS, None, "a"), ("remove", (0, 3, 0, 0)),
+                       ("insert", OTHER, LETTERS, None, "")])
         self.assertEqual(kept(store)[2], [])
 
     def test_undone_ones(self):
@@ -308,7 +311,8 @@ class KeptTexts(unittest.TestCase):
         say(store, 0, [("insert", ROW, LETTERS, None, "abc")])
         store = cut_at(store, seal(store))
         say(store, 0, [("remove", (0, 3, 0, 1)), ("insert", ROW, LETTERS, (0, 3, 0, 0), "x")])
-        self.assertEqual(kept(store)[2], [((ROW, LETTERS), [((0, 3, 0, 0), "a"), ((0, 5, 1, 0), "x"), ((0, 3, 0, 2), "c")])])
+        self.assertEqual(kept(store)[2], [((ROW, LETTERS), [((0, 3, 0, 0), "a"), ((0, 5, 1, 0), "x"),
+                                                            ((0, 3, 0, 2), "c")])])
 
 
 class Known(unittest.TestCase):
@@ -448,7 +452,8 @@ class Cut(unittest.TestCase):
         one = seal(store)
         after = cut_at(store, one)
         self.assertEqual([kept and kept.data() for kept in after.kept],
-                         [((((0, 2, 0), ("table", "t")),), (), ()), None, None, ((((0, 2, 0), ("table", "q")),), (), ())])
+                         [((((0, 2, 0), ("table", "t")),), (), ()), None, None,
+                          ((((0, 2, 0), ("table", "q")),), (), ())])
         self.assertEqual(sources(after, verdicts(after), 1), [])
 
 
@@ -470,7 +475,8 @@ class Random(unittest.TestCase):
                 now = verdicts(after)
                 self.assertEqual(now, {name: allowed[name] for name in now})
                 gone = [name for name in allowed if name not in now]
-                self.assertEqual(sorted(gone), sorted(name for name in allowed if in_past(name, one) or name == one.name()))
+                self.assertEqual(sorted(gone), sorted(name for name in allowed if in_past(name,
+                                                                                          one) or name == one.name()))
                 self.assertTrue(is_whole(after))
                 if last is not None:
                     self.assertEqual(repr(cut_at(last, one).data()), repr(after.data()))

@@ -144,7 +144,8 @@ class Random(unittest.TestCase):
         for turn in range(3000):
             steps = chance.choice([None, 0, 1, 3, 9])
             data = [chance.randrange(256) for k in range(chance.randrange(6))]
-            word, arguments = chance.choice([("write", (data, steps))] * 6 + [("shorten", (chance.randrange(20), steps)),
+            word, arguments = chance.choice([("write", (data, steps))] * 6 + [("shorten",
+                                                                               (chance.randrange(20), steps)),
                                             ("flush", (steps,)), ("lose", (chance.randrange(12),))])
             self.assertEqual(getattr(one, word)(*arguments), getattr(plain, word)(*arguments))
             self.assertEqual((one.content(), one.pending()), (plain.content(), plain.pending()))

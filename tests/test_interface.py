@@ -49,6 +49,10 @@ FUNCTIONS = {
         "write_number": ["number"], "write_integer": ["number"], "write_string": ["text"], "write_value": ["value"],
         "write_act": ["act"], "write_change": ["change"], "write_kept": ["kept"], "write_capability": ["entry"],
         "write_store": ["store"]},
+    "packets": {"asking": ["store", "member"], "giving": ["store", "packet"], "taking": ["store", "packet"]},
+    "log": {
+        "write_record": ["data"], "checksum": ["data"], "read_records": ["data"], "log_start": ["turn", "store"],
+        "read_log": ["data", "members"], "counting_file": ["first", "second", "members"]},
 }
 CLASSES = {
     "changes": {"Change": (["author", "number", "heard", "capability", "publics", "parts"], {
@@ -62,6 +66,19 @@ CLASSES = {
         "shown": ["row", "column"], "counted": ["row", "column"], "entry": ["row", "column"]})},
     "sources": {"Source": (["name", "columns", "kinds", "rows"], {})},
     "live": {"Live": (["tree", "parameters"], {"turn": ["sources"]})},
+    "reading": {"Reader": (["data"], {
+        "read_number": [], "read_integer": [], "read_string": [], "read_value": [], "read_act": [], "read_change": [],
+        "read_kept": [], "read_capability": [], "read_store": [], "end": []})},
+    "files": {"File": ([], {
+        "write": ["data", "steps"], "shorten": ["size", "steps"], "flush": ["steps"], "content": [], "pending": [],
+        "lose": ["steps"]})},
+    "replica": {
+        "Replica": (["member", "members"], {
+            "act": ["capability", "publics", "parts"], "have": [], "answer": ["packet"], "take": ["packet"],
+            "ask": ["text", "parameters"], "live": ["text", "parameters"], "why": ["text", "parameters", "row"],
+            "conflicts": ["space"], "verdict": ["name"], "status": [], "trim": [], "open_again": [], "flush": [],
+            "fail_after": ["steps"], "power": ["first", "second"], "log": ["index"]}),
+        "Watch": (None, {"turn": []})},
 }
 
 
@@ -86,10 +103,17 @@ class Interface(unittest.TestCase):
             for word, (arguments, methods) in CLASSES[name].items():
                 found = getattr(module(name), word)
                 self.assertEqual(found.__module__, "kithbase." + name, word)
-                self.check(found, arguments)
+                if arguments is not None:
+                    self.check(found, arguments)
                 for method in methods:
                     self.assertIn(method, vars(found))
                     self.check(vars(found)[method], methods[method], skipped=1)
+
+    def test_parameters_that_need_not_be_passed(self):
+        for word in ["ask", "live"]:
+            parameters = inspect.signature(getattr(module("replica").Replica, word)).parameters
+            self.assertEqual(parameters["parameters"].default, ())
+        self.assertIs(inspect.signature(module("replica").Replica.why).parameters["parameters"].default, inspect._empty)
 
     def test_constants(self):
         self.assertEqual(module("store").SPACES, 4)

@@ -406,7 +406,8 @@ class NothingChanges(unittest.TestCase):
     def test_later_changes_to_a_kept_list(self):
         store = Store(1)
         store.cut = [2]
-        store.kept[0] = Kept([((0, 2, k), act) for k, act in enumerate(SETUP)], [], [((ROW, COLUMN), [((0, 2, 5, 0), "a")])])
+        store.kept[0] = Kept([((0, 2, k), act) for k, act in enumerate(SETUP)], [],
+                             [((ROW, COLUMN), [((0, 2, 5, 0), "a")])])
         characters(store, verdicts(store), 0, ROW, COLUMN).clear()
         self.assertEqual(text(store), "a")
 

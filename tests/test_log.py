@@ -110,12 +110,16 @@ class Start(unittest.TestCase):
         for size in range(len(data)):
             self.assertIsNone(read_log(data[:size], 3))
         one, two, three = write_record([1, 1]), write_record([3] + write_store(store)), write_record([2])
-        for bad in [[], one + two, two + three, one + three, one + three + two, two + one + three, one + one + two + three,
+        for bad in [[], one + two, two + three, one + three, one + three + two, two + one + three,
+                    one + one + two + three,
                     three, one + two + two + three, write_record([]) + one + two + three,
-                    write_record([1]) + two + three, write_record([1, 1, 0]) + two + three, write_record([2, 1]) + two + three,
-                    write_record([1, 128, 0]) + two + three, one + write_record([3]) + three, one + write_record([]) + three,
+                    write_record([1]) + two + three, write_record([1, 1, 0]) + two + three,
+                    write_record([2, 1]) + two + three,
+                    write_record([1, 128, 0]) + two + three, one + write_record([3]) + three,
+                    one + write_record([]) + three,
                     one + write_record([4] + write_store(store)) + three, one + two + write_record([]),
-                    one + write_record([3] + write_store(store) + [0]) + three, one + two + write_record([2, 0]) + three,
+                    one + write_record([3] + write_store(store) + [0]) + three,
+                    one + two + write_record([2, 0]) + three,
                     one + two + write_record([3]), one + two + note(next_change(store, 0)),
                     one + two + note(next_change(store, 0)) + three]:
             self.assertIsNone(read_log(bad, 3), bad)
@@ -277,8 +281,10 @@ class Notes(unittest.TestCase):
         bad = note(Change(1, 2, (0, 1), None, (), ((),) * 4))
         self.assertEqual(read_log(start + good, 2)[1].counts(), [1, 1])
         self.assertEqual(read_log(start + bad, 2)[1].counts(), [0, 1])
-        self.assertEqual(read_log(start + good + note(Change(0, 2, (1, 2), None, (), ((),) * 4)), 2)[1].counts(), [1, 1])
-        self.assertEqual(read_log(start + good + note(Change(0, 2, (1, 1), None, (), ((),) * 4)), 2)[1].counts(), [2, 1])
+        self.assertEqual(read_log(start + good + note(Change(0, 2, (1, 2), None, (), ((),) * 4)), 2)[1].counts(),
+                         [1, 1])
+        self.assertEqual(read_log(start + good + note(Change(0, 2, (1, 1), None, (), ((),) * 4)), 2)[1].counts(),
+                         [2, 1])
 
     def test_nothing_is_shared(self):
         data = self.start + note(next_change(self.store, 0))

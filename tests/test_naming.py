@@ -83,7 +83,8 @@ class Naming(unittest.TestCase):
                     self.refused(text[:place] + character + text[place + 1:])
 
     def test_other_ways_to_write_numbers(self):
-        for text in ["-1.1", "1.-1", "+1.1", "1e1.1", "0x1.1", "1_0.1", " 1.1", "1.1 ", "1.1\n", "\n1.1", "1. 1", "1.1.-1",
+        for text in ["-1.1", "1.-1", "+1.1", "1e1.1", "0x1.1", "1_0.1", " 1.1", "1.1 ", "1.1\n", "\n1.1", "1. 1",
+                     "1.1.-1",
                      "1.1.1.-1", "(1, 1)", "1,1", "\u0661.\u0661"]:
             self.refused(text)
 

@@ -125,7 +125,8 @@ class Giving(unittest.TestCase):
 
     def test_only_what_the_other_one_does_not_have(self):
         store = office()
-        self.assertEqual(told(giving(store, ask_packet(1, counts=(1, 0, 0)))), [((0, 2), [True] * 4), ((1, 1), [True] * 4)])
+        self.assertEqual(told(giving(store, ask_packet(1, counts=(1, 0, 0)))),
+                         [((0, 2), [True] * 4), ((1, 1), [True] * 4)])
         self.assertEqual(told(giving(store, ask_packet(1, counts=(9, 1, 9)))), [])
 
     def test_the_cut_and_what_is_kept_of_capabilities(self):
@@ -149,7 +150,8 @@ class Giving(unittest.TestCase):
         store = cut_office()
         store.kept[2] = None
         self.assertEqual(which_kept(giving(store, ask_packet(1))), [True, True, False, True])
-        self.assertEqual(which_kept(giving(store, ask_packet(1, (3, 1, 0), known=(0, 0, 0, 0)))), [True, True, False, True])
+        self.assertEqual(which_kept(giving(store, ask_packet(1, (3, 1, 0), known=(0, 0, 0, 0)))),
+                         [True, True, False, True])
 
     def test_spaces_that_may_not_be_read(self):
         store = office((READ, NONE, BOTH, (False, True, True)))
@@ -222,7 +224,8 @@ class Giving(unittest.TestCase):
         for bad in [good + [0], good[:-1], [], [1], [0] + good[1:], [2] + good[1:], [3] + good[1:], give_packet(),
                     [128, 0] + good[1:], ask_packet(3), ask_packet(300), ask_packet(cut=(0, 0)),
                     ask_packet(cut=(0, 0, 0, 0)), ask_packet(counts=(0, 0)), ask_packet(counts=(0, 0, 0, 0)),
-                    ask_packet(cut=(), counts=()), ask_packet(cut=(0, 0), counts=(0, 0)), ask_packet(known=(1, 1, 1, 2)),
+                    ask_packet(cut=(), counts=()), ask_packet(cut=(0, 0), counts=(0, 0)),
+                    ask_packet(known=(1, 1, 1, 2)),
                     ask_packet(known=(1, 1, 1)), ask_packet(names=[[(0, 1, 1)], [], [], []]), asking(Store(2), 1)]:
             before = (store.data(), list(bad))
             with self.assertRaises(DamagedPacket, msg=bad):
@@ -292,7 +295,8 @@ class Changes(unittest.TestCase):
     def test_another_header(self):
         own_one = self.store.changes[1][0]
         self.assertEqual(own_one.heard, (2, 0, 0))
-        for header in [((1, 0, 0), own(1), ()), ((2, 0, 0), None, ()), ((2, 0, 0), own(2), ()), ((2, 0, 0), own(1), (SEAL,)),
+        for header in [((1, 0, 0), own(1), ()), ((2, 0, 0), None, ()), ((2, 0, 0), own(2), ()),
+                       ((2, 0, 0), own(1), (SEAL,)),
                        ((2, 0), own(1), ()), ((2, 0, 0, 0), own(1), ())]:
             self.assert_unfit(self.change(1, 1, header[0], (None,) * 4, header[1], header[2]))
         self.take(self.change(1, 1, (2, 0, 0), (None,) * 4, own(1)))
@@ -337,7 +341,8 @@ class Changes(unittest.TestCase):
     def test_changes_that_are_cut_away(self):
         self.store = cut_office()
         packet = give_packet([3, 1, 0], self.store.capabilities, changes=[
-            self.change(0, 1, (0, 0, 0), capability=(9, 9, 9)), self.change(1, 1, (7, 7)), self.change(1, 2, (3, 1, 0))])
+            self.change(0, 1, (0, 0, 0), capability=(9, 9, 9)), self.change(1, 1, (7, 7)),
+            self.change(1, 2, (3, 1, 0))])
         after = taking(self.store, packet)
         self.assertEqual([change.name() for change in after.all_changes()], [(1, 2)])
 
@@ -400,7 +405,8 @@ class SameCut(unittest.TestCase):
 
     def test_other_kept_capabilities(self):
         first, second = self.capabilities
-        for capabilities in [(), (first,), (second, first), (first, second, second), (first, second[:2] + (1, EVERYTHING)),
+        for capabilities in [(), (first,), (second, first), (first, second, second),
+                             (first, second[:2] + (1, EVERYTHING)),
                              (first, second[:1] + (first[0], 2, EVERYTHING)),
                              (first, second[:3] + ((ALL, ALL, ALL, READ),))]:
             self.assert_unfit(self.store.cut, capabilities)
@@ -408,7 +414,8 @@ class SameCut(unittest.TestCase):
     def test_other_kept_things(self):
         kept = list(self.store.kept)
         self.assert_unfit(self.store.cut, self.capabilities, [Kept([], [], [])] + kept[1:])
-        self.assert_unfit(self.store.cut, self.capabilities, [None, None, None, Kept([((0, 1, 0), ("table", "x"))], [], [])])
+        self.assert_unfit(self.store.cut, self.capabilities, [None, None, None, Kept([((0, 1, 0), ("table", "x"))], [],
+                                                                                     [])])
 
     def test_true_in_the_place_of_one(self):
         act = ((0, 2, 9), ("put", ROW, T, 1))
@@ -421,7 +428,8 @@ class SameCut(unittest.TestCase):
         kept = list(self.store.kept)
         self.store.kept = [None, kept[1], None, kept[3]]
         after = taking(self.store, give_packet(self.store.cut, self.capabilities, [kept[0], None, None, kept[3]]))
-        self.assertEqual([one and one.data() for one in after.kept], [kept[0].data(), kept[1].data(), None, kept[3].data()])
+        self.assertEqual([one and one.data() for one in after.kept],
+                         [kept[0].data(), kept[1].data(), None, kept[3].data()])
 
     def test_nothing_is_cut(self):
         store = office()
@@ -439,7 +447,8 @@ class EarlierCut(unittest.TestCase):
         store = cut_office()
         say(store, 0)
         for cut in [(0, 0, 0), (2, 9, 9), (2, 0, 0)]:
-            packet = give_packet(cut, [((5, 5, 5), None, 1, EVERYTHING)], [Kept([((0, 1, 0), ("table", "q"))], [], [])] * 4)
+            packet = give_packet(cut, [((5, 5, 5), None, 1, EVERYTHING)], [Kept([((0, 1, 0), ("table", "q"))], [],
+                                                                                [])] * 4)
             self.assertEqual(taking(store, packet).data(), store.data())
 
     def test_what_is_not_known_stays_so(self):

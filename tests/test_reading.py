@@ -177,7 +177,8 @@ class Stores(Reading):
                             [0, 0, 1, 1, 2, 3, 1, 2, 3, 1, 1, 2, 3, 4, 37], [0, 0, 1], [0, 5, 1, 1])
 
     def test_capabilities(self):
-        for entry in [(A, None, 3, EVERYTHING), (B, A, 0, ((False, True, False), NONE, NONE, ALL)), (B, B, 70, NOTHING)]:
+        for entry in [(A, None, 3, EVERYTHING), (B, A, 0, ((False, True, False), NONE, NONE, ALL)),
+                      (B, B, 70, NOTHING)]:
             self.assert_read("capability", write_capability(entry), entry)
         self.assert_damaged("capability", [1, 2, 3, 0, 1] + [1] * 11 + [2], [1, 2, 3, 2, 1] + [1] * 12)
 
@@ -221,7 +222,8 @@ class Stores(Reading):
                 ([0, 0], [self.change(0, 2)], []), ([0, 0], [self.change(0, 0)], []),
                 ([0, 0], [self.change(0, 1), self.change(0, 3)], []), ([0, 0], [self.change(0, 1)] * 2, []),
                 ([0, 0], [self.change(0, 2), self.change(0, 1)], []), ([5, 0], [self.change(0, 5)], []),
-                ([5, 0], [self.change(0, 1)], []), ([5, 0], [self.change(0, 7)], []), ([0, 3], [], [self.change(1, 3)])]:
+                ([5, 0], [self.change(0, 1)], []), ([5, 0], [self.change(0, 7)], []),
+                ([0, 3], [], [self.change(1, 3)])]:
             data = self.start(cut)
             for line in (first, second):
                 data += [len(line)] + [byte for change in line for byte in change]

@@ -249,7 +249,8 @@ class Capabilities(unittest.TestCase):
     def test_a_sealed_change_is_not_followed_though_it_was_a_granting_one(self):
         store = Store(4)
         make(store, 0, publics=[grant(1)])
-        make(store, 1, [("table", "t"), ("column", (1, 1, 0), "a", "integer")], capability=(0, 1, 0), publics=[grant(2)])
+        make(store, 1, [("table", "t"), ("column", (1, 1, 0), "a", "integer")], capability=(0, 1, 0),
+             publics=[grant(2)])
         make(store, 0, publics=[SEAL])
         make(store, 2, [("row", (1, 1, 0))], capability=(1, 1, 0))
         self.assertEqual(rests(store, (2, 1, 0)), [(2, 1), (1, 1), (0, 1)])

@@ -284,7 +284,8 @@ class Revocations(unittest.TestCase):
     def test_kept_capabilities(self):
         store = cut_store()
         self.assertEqual(self.revoked(store, 0, publics=[revoke((1, 1, 0)), revoke(KEPT)]), [(1, 1, 0), KEPT])
-        self.assertEqual(self.revoked(store, 1, capability=KEPT, publics=[revoke(KEPT), revoke((1, 1, 0))]), [(1, 1, 0)])
+        self.assertEqual(self.revoked(store, 1, capability=KEPT, publics=[revoke(KEPT), revoke((1, 1, 0))]),
+                         [(1, 1, 0)])
         # It is kept, so it counts as heard of whatever the change had heard.
         found = self.revoked(store, 0, heard=(1, 0, 0), publics=[revoke((1, 1, 0)), revoke(KEPT)])
         self.assertEqual(found, [(1, 1, 0), KEPT])

@@ -345,7 +345,8 @@ class Writes(unittest.TestCase):
     def test_writes_before_the_row_or_the_column_in_one_change(self):
         store = office()
         row, column = (1, 1, 2), (1, 1, 3)
-        acts = [put(1, NUMBER, row), put(1, column, ROW), ("row", T), ("column", T, "x", "integer"), put(2, NUMBER, row),
+        acts = [put(1, NUMBER, row), put(1, column, ROW), ("row", T), ("column", T, "x", "integer"),
+                put(2, NUMBER, row),
                 put(2, column, ROW), put(2, column, row)]
         say(store, 1, acts)
         sheet = sheet_of(store)
@@ -568,7 +569,8 @@ class NothingChanges(unittest.TestCase):
         """Returns all that the sheet answers."""
         rows = [ROW, OTHER, OF_U, (1, 1, 0)]
         cells = [(row, column) for row in rows for column in COLUMNS + [U_NUMBER]]
-        answers = [[sheet.writes(*cell), sheet.shown(*cell), sheet.counted(*cell), sheet.entry(*cell)] for cell in cells]
+        answers = [[sheet.writes(*cell), sheet.shown(*cell), sheet.counted(*cell),
+                    sheet.entry(*cell)] for cell in cells]
         named = [[sheet.act_of(spot), sheet.table_of(spot)] for spot in rows + COLUMNS + [T, U, (1, 1, 1)]]
         kinds = [sheet.holds(column) for column in COLUMNS]
         return repr([sheet.acts, sheet.place, sheet.tables, sheet.columns, sheet.rules, sheet.rule_spots, sheet.live,

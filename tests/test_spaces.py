@@ -128,7 +128,8 @@ class Agree(unittest.TestCase):
         store = Store(2)
         store.cut = [number - 1, 2]
         store.capabilities = [((0, 1, 0), None, 1, EVERYTHING)]
-        store.kept = [Kept([((0, 1, 0), ("table", "x"))], [(((0, 1, 0), (0, 1, 1)), 1)], []), Kept([], [], []), None, None]
+        store.kept = [Kept([((0, 1, 0), ("table", "x"))], [(((0, 1, 0), (0, 1, 1)), 1)], []), Kept([], [], []), None,
+                      None]
         make(store, 0, parts=parts, publics=publics)
         return store
 

@@ -70,7 +70,8 @@ class Entries(unittest.TestCase):
                          [((1,), (T1, U1)), ((2,), (T2, U1)), ((None,), (T3, U1))])
         self.assertEqual(told("select s0_t.n from s0_t join s0_u on not b"), [])
         self.assertEqual(told("select s0_t.n from s0_t join s0_u on null"), [])
-        self.assertEqual(told("select s0_t.n from s0_t join s0_u on s0_t.n = s0_u.n and s0_u.n = 2"), [((2,), (T2, U2))])
+        self.assertEqual(told("select s0_t.n from s0_t join s0_u on s0_t.n = s0_u.n and s0_u.n = 2"),
+                         [((2,), (T2, U2))])
 
     def test_the_order_of_a_join(self):
         self.assertEqual([way for row, way in told("select 1 from s0_t a join s0_t b on a.w = b.w")],
@@ -89,13 +90,16 @@ class Entries(unittest.TestCase):
     def test_a_join_on_the_right_side(self):
         condition = ("binary", "=", ("column", "a", "n"), ("column", "b", "n"))
         right = ("join", ("table", "s0_u", "b"), ("table", "s0_u", "c"), ("literal", True), False)
-        tree = ("select", False, ((("column", "a", "w"), None),), ("join", ("table", "s0_t", "a"), right, condition, False),
+        tree = ("select", False, ((("column", "a", "w"), None),), ("join", ("table", "s0_t", "a"), right, condition,
+                                                                   False),
                 None, None, None)
         self.assertEqual(entries(tree, tables(), []),
-                         [(("a",), (T1, U1, U1)), (("a",), (T1, U1, U2)), (("b",), (T2, U2, U1)), (("b",), (T2, U2, U2))])
+                         [(("a",), (T1, U1, U1)), (("a",), (T1, U1, U2)), (("b",), (T2, U2, U1)),
+                          (("b",), (T2, U2, U2))])
 
     def test_a_query_in_from(self):
-        self.assertEqual(told("select m from (select n + 1 as m, w from s0_t where n > 0) q where w = 'a'"), [((2,), (T1,))])
+        self.assertEqual(told("select m from (select n + 1 as m, w from s0_t where n > 0) q where w = 'a'"),
+                         [((2,), (T1,))])
         self.assertEqual(told("select * from (select n + 1 as m, 5 from s0_t) q"),
                          [((2, 5), (T1,)), ((3, 5), (T2,)), ((None, 5), (T3,))])
         self.assertEqual(told("select * from (select * from (select 1) a) b"), [((1,), ())])
