@@ -18,6 +18,11 @@ class Disks:
         if not self.lit:
             raise PowerOff("power is off")
 
+    def fail_after(self, steps):
+        """Lets power fail after so many further steps."""
+        self.check()
+        self.left = steps
+
     def write(self, index, data):
         """Appends bytes to one of the files."""
         self._use(self.files[index].write(data, self.left), len(data))

@@ -1,14 +1,16 @@
 """Logs: what a replica writes into its files, and what the files tell."""
 
-from kithbase.codes import write_number, write_store
+from kithbase.codes import write_change, write_number, write_store
 from kithbase.errors import DamagedPacket, UnfitPacket
 from kithbase.packets import taking
 from kithbase.reading import Reader
 from kithbase.store import goes_on, is_whole
 
+# What the records of a log begin with: the three of its start, in their order, and the note of a change.
 TURN = 1
-FULL = 2
 STORE = 3
+STARTED = 2
+CHANGE = 3
 CHECKSUM_BYTES = 4
 
 
@@ -67,14 +69,24 @@ def _next_record(reader):
 def log_start(turn, store):
     """Returns the bytes of a log without notes."""
     first = write_record([TURN] + write_number(turn))
-    return first + write_record([STORE] + write_store(store)) + write_record([FULL])
+    return first + write_record([STORE] + write_store(store)) + write_record([STARTED])
+
+
+def change_note(change):
+    """Returns the bytes of the note of a change that a replica made."""
+    return write_record([CHANGE] + write_change(change))
+
+
+def packet_note(packet):
+    """Returns the bytes of the note of a packet that a replica took."""
+    return write_record(packet)
 
 
 def read_log(data, members):
     """Returns what a file tells: the turn, the store, and the number of bytes of the complete records; or None."""
     found = _records(data)
     records = [record for record, end in found]
-    if len(records) < 3 or records[2] != [FULL]:
+    if len(records) < 3 or records[2] != [STARTED]:
         return None
     turn = _turn_of(records[0])
     store = _store_of(records[1], members)
@@ -123,7 +135,7 @@ def _store_of(record, members):
 
 def _takes_note(telling, record):
     """Changes the store by a note and returns True, or returns False if the note is not as it must be."""
-    if record[:1] == [STORE]:
+    if record[:1] == [CHANGE]:
         return _takes_change(telling, record)
     try:
         telling.store = taking(telling.store, record)

@@ -1,13 +1,12 @@
 """Replicas: what each member of a group has."""
 
 from kithbase.changes import Change
-from kithbase.codes import write_change
 from kithbase.cutting import before_seal, cut_at, is_known
 from kithbase.disks import Disks
 from kithbase.errors import InvalidArgument, NothingToTrim, ReplicaClosed, ReplicaOpen, UncountedChange
 from kithbase.kinds import check
 from kithbase.live import Live
-from kithbase.log import counting_log, log_start, read_log, write_record
+from kithbase.log import change_note, counting_log, log_start, packet_note, read_log
 from kithbase.meaning import answer
 from kithbase.packets import asking, giving, taking
 from kithbase.parser import parse
@@ -18,7 +17,6 @@ from kithbase.why import ways
 from kithbase.yielding import conflicts
 
 MOST_MEMBERS = 6
-CHANGE = 3
 
 
 class Replica:
@@ -60,17 +58,16 @@ class Replica:
         after = View(with_next(store, change))
         if not _would_count(self._view, after, change):
             raise UncountedChange("the change would not count")
-        self._note(after, [CHANGE] + write_change(change))
+        self._note(after, change_note(change))
         return change.name()
 
     def _note(self, after, note):
         """Appends a note to the log, and goes on with what follows from it."""
-        self._disks.write(self._counting, write_record(note))
+        self._disks.write(self._counting, note)
         self._view = after
 
     def have(self):
         """Returns a packet that asks."""
-        self._check_running()
         self.flush()
         return asking(self._view.store, self._member)
 
@@ -84,7 +81,7 @@ class Replica:
     def take(self, packet):
         """Takes a packet that gives."""
         self._check_running()
-        self._note(View(taking(self._view.store, packet)), packet)
+        self._note(View(taking(self._view.store, packet)), packet_note(packet))
 
     def ask(self, text, parameters=()):
         """Returns the answer of a question: the names of its columns and its rows."""
@@ -184,8 +181,7 @@ class Replica:
 
     def fail_after(self, steps):
         """Lets power fail after so many further steps."""
-        self._disks.check()
-        self._disks.left = steps
+        self._disks.fail_after(steps)
 
     def power(self, first, second):
         """Lets power fail if it has not yet, and turns it on again; the replica is closed then."""

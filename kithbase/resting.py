@@ -5,7 +5,6 @@ from kithbase.letters import Lettering, characters_in
 from kithbase.naming import parse_spot
 from kithbase.rights import allowed_seals, capability_info
 from kithbase.sheets import Sheet
-from kithbase.store import is_cut_away
 from kithbase.yielding import column_holders, table_holders
 
 
@@ -69,7 +68,8 @@ def _changes_of_cell(resting, space, row, column):
 
 def _is_sealed(resting, name):
     """True if the change with this name is an allowed seal, in the past of one, or cut away."""
-    if is_cut_away(resting.store, name):
+    # What is kept can only come from changes that are cut away.
+    if resting.store.find(name) is None:
         return True
     return any(seal.name() == name or in_past(name, seal) for seal in resting.seals)
 

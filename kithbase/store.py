@@ -103,11 +103,7 @@ def is_cut_away(store, name):
 
 def is_whole(store):
     """True if the store is whole: everything that its changes had heard of is there."""
-    changes = [change for line in store.changes for change in line]
-    # The other conditions compare the entries of members, so they need all entries to be there.
-    if any(len(change.heard) != store.members for change in changes):
-        return False
-    return all(goes_on(store, change) for change in changes)
+    return all(goes_on(store, change) for line in store.changes for change in line)
 
 
 def goes_on(store, change):

@@ -298,6 +298,11 @@ class KeptTexts(unittest.TestCase):
         say(store, 0, [("undo", (0, 3))])
         self.assertEqual(kept(store)[2], [((ROW, LETTERS), [((0, 4, 0, 0), "b")])])
 
+    def test_characters_in_a_column_of_another_kind(self):
+        store = office()
+        say(store, 0, [("insert", ROW, W, None, "a"), ("insert", ROW, COUNT, None, "b"), ("insert", ROW, T, None, "c")])
+        self.assertEqual(kept(store)[2], [])
+
     def test_the_order_of_cells(self):
         store = office()
         say(store, 0, [("column", T, "k", "letters")])

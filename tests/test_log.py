@@ -32,6 +32,13 @@ class Records(unittest.TestCase):
         for data in [[9] * 40, [200, 1, 255] * 9]:
             self.assertEqual(write_record(data), [len(data)] + data + list(checksum(data).to_bytes(4, "big")))
 
+    def test_random_records(self):
+        chance = random.Random(102)
+        for turn in range(500):
+            data = [chance.randrange(256) for k in range(chance.randrange(1, 60))]
+            self.assertEqual(write_record(data), [len(data)] + data + list(checksum(data).to_bytes(4, "big")))
+            self.assertEqual(read_records(write_record(data)), ([data], len(data) + 5))
+
     def test_reading(self):
         records = [[7, 8], [], [0] * 300, [1]]
         data = [byte for record in records for byte in write_record(record)]
@@ -285,6 +292,15 @@ class Notes(unittest.TestCase):
                          [1, 1])
         self.assertEqual(read_log(start + good + note(Change(0, 2, (1, 1), None, (), ((),) * 4)), 2)[1].counts(),
                          [2, 1])
+
+    def test_a_store_that_is_not_whole_for_long(self):
+        """A note with which nothing is wrong does not count as long as something else is."""
+        store = Store(2)
+        store.add(Change(1, 1, (2, 0), None, (), ((),) * 4))
+        start = log_start(1, store)
+        first, second = [note(Change(0, number, (number - 1, 0), None, (), ((),) * 4)) for number in (1, 2)]
+        self.assertEqual(read_log(start + first + second, 2)[1].counts(), [0, 1])
+        self.assertEqual(read_log(start + first + second, 2)[2], len(start))
 
     def test_nothing_is_shared(self):
         data = self.start + note(next_change(self.store, 0))

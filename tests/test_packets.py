@@ -346,6 +346,17 @@ class Changes(unittest.TestCase):
         after = taking(self.store, packet)
         self.assertEqual([change.name() for change in after.all_changes()], [(1, 2)])
 
+    def test_parts_of_changes_behind_a_cut(self):
+        self.store = cut_office()
+        for turn in range(3):
+            say(self.store, 0)
+        with_parts(self.store, (0, 5), [None, (), (), None])
+        packet = give_packet([3, 1, 0], self.store.capabilities,
+                             changes=[self.change(0, 5, (4, 1, 0), ((("row", T),), None, None, None))])
+        after = taking(self.store, packet)
+        self.assertEqual([change.parts for change in after.changes[0]],
+                         [((),) * 4, ((("row", T),), (), (), None), ((),) * 4])
+
     def test_the_author_and_the_number_of_what_is_cut_away(self):
         self.store = cut_office()
         for change in [self.change(3, 1, (0, 0, 0)), self.change(0, 0, (0, 0, 0))]:

@@ -291,6 +291,11 @@ class BehindACut(unittest.TestCase):
         make(store, 2, [("put", (2, 1, 0), (0, 2, 0), 6), ("add", (2, 1, 0), (0, 2, 1), 1)], capability=(1, 1, 5))
         self.assertEqual(rests(store, (2, 1, 0)), [(2, 1), (1, 1), (0, 2), (2, 2), (0, 1)])
 
+    def test_a_parent_that_is_not_kept(self):
+        store = self.kept([((0, 1, 0), (1, 2, 5), 1, EVERYTHING)])
+        make(store, 1, [("row", (1, 1, 0))], capability=(0, 1, 0))
+        self.assertEqual(rests(store, (1, 3, 0)), [(1, 3), (0, 1), (1, 2), (1, 1), (0, 2)])
+
     def test_a_row_behind_the_cut(self):
         store = self.kept([((0, 1, 0), None, 1, EVERYTHING)])
         make(store, 1, [("row", (1, 1, 0))], capability=(0, 1, 0), publics=[grant(2)])
