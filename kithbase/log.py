@@ -35,11 +35,11 @@ def checksum(data):
 
 def read_records(data):
     """Returns the list of the complete records at the front, and the number of bytes that they take."""
-    found = _records(data)
+    found = _complete_records(data)
     return ([record for record, end in found], found[-1][1] if found else 0)
 
 
-def _records(data):
+def _complete_records(data):
     """Returns the list of pairs of a complete record at the front and the number of bytes up to its end."""
     reader = Reader(data)
     found = []
@@ -84,7 +84,7 @@ def packet_note(packet):
 
 def read_log(data, members):
     """Returns what a file tells: the turn, the store, and the number of bytes of the complete records; or None."""
-    found = _records(data)
+    found = _complete_records(data)
     records = [record for record, end in found]
     if len(records) < 3 or records[2] != [STARTED]:
         return None

@@ -497,6 +497,55 @@ class Live(unittest.TestCase):
         self.assertEqual(two.turn(), (["n"], [(5,)], []))
 
 
+class Bounds(unittest.TestCase):
+    """Points 5 and 6: the values that may be written, and the sizes of networks."""
+
+    def test_values(self):
+        every = "".join(chr(code) for code in range(32, 127) if code != 37) + "\n"
+        most = 10 ** 40 - 1
+        values = {"integer": [0, most, -most, None], "text": ["", every, "x" * 2000, "it's", None],
+                  "boolean": [True, False, None]}
+        for holds in values:
+            replica = Replica(0, 1)
+            replica.act(None, [], {3: [("table", "t"), ("column", (0, 1, 0), "v", holds), ("row", (0, 1, 0))]})
+            for value in values[holds]:
+                replica.act(None, [], {3: [("put", (0, 1, 2), (0, 1, 1), value)]})
+                told = repr((["v"], [(value,)]))
+                self.assertEqual(repr(replica.ask("select v from s3_t")), told)
+                replica.flush()
+                replica.power(0, 0)
+                replica.open_again()
+                self.assertEqual(repr(replica.ask("select v from s3_t")), told)
+                if value is not None:
+                    self.assertEqual(replica.ask("select v = $1 as e from s3_t", [value]), (["e"], [(True,)]))
+
+    def test_sums_and_long_texts(self):
+        replica = Replica(0, 1)
+        t, counter, letters, row = [(0, 1, place) for place in range(4)]
+        replica.act(None, [], {0: [("table", "t"), ("column", t, "c", "counter"), ("column", t, "l", "letters"),
+                                   ("row", t)]})
+        most = 10 ** 40 - 1
+        for turn in range(12):
+            replica.act(None, [], {0: [("add", row, counter, most), ("insert", row, letters, None, "y" * 200)]})
+        told = (["c", "l"], [(12 * most, "y" * 2400)])
+        self.assertEqual(replica.ask("select c, l from s0_t"), told)
+        replica.act(None, [SEAL], {})
+        replica.trim()
+        replica.power(0, 0)
+        replica.open_again()
+        self.assertEqual(replica.ask("select c, l from s0_t"), told)
+
+    def test_the_greatest_network(self):
+        replicas = group(6)
+        for member in range(1, 6):
+            replicas[member].act(own(member), [], {space: [("table", "m")] for space in range(4)})
+            give(replicas[member], replicas[0])
+        self.assertEqual(replicas[0].status(), ([2] + [1] * 5, [0] * 6, [True] * 4))
+        for space in range(4):
+            self.assertEqual(replicas[0].ask(f"select * from s{space}_m"), (["id"], []))
+            self.assertEqual(len(replicas[0].conflicts(space)[0]), 4)
+
+
 class Trimming(unittest.TestCase):
     def test_it_cuts_at_the_last_seal(self):
         a, b = group(2)
