@@ -44,8 +44,8 @@ def kept_of(store, space):
         return None
     allowed = verdicts(store)
     sheet = Sheet(store, allowed, space)
-    spots = _made(sheet) + _shown_writes(sheet)
-    acts = [(spot, sheet.act_of(spot)) for spot in sorted(spots, key=lambda spot: sheet.place[spot])]
+    spots = sorted(_made(sheet) + _shown_writes(sheet), key=lambda spot: sheet.place[spot])
+    acts = [(spot, sheet.act_of(spot)) for spot in spots]
     return Kept(acts, _sums(sheet), _texts(sheet, Lettering(store, allowed, space)))
 
 
